@@ -1,0 +1,1 @@
+"""Integers, ratios, tables of ratios and polynomials."""

@@ -1,0 +1,1 @@
+"""The pairs of a level."""

@@ -1,0 +1,1 @@
+"""Fractions and the rims of a level."""

@@ -1,0 +1,204 @@
+"""Some rules of the language of the package that can be read off its files."""
+
+import ast
+import builtins
+import re
+import unittest
+from pathlib import Path
+
+PACKAGE = Path(__file__).resolve().parent.parent / "levelroads"
+FILES = sorted(PACKAGE.rglob("*.py"))
+BUILTINS = set(
+    "len range enumerate zip min max sum abs sorted reversed int str bool list tuple dict set isinstance ord repr any "
+    "all divmod Exception ValueError TypeError KeyError IndexError LookupError ZeroDivisionError ArithmeticError "
+    "OverflowError RuntimeError NotImplementedError property classmethod staticmethod".split())
+LIBRARY = {"math": {"gcd", "lcm", "isqrt", "comb", "perm", "factorial"}}
+METHODS = set(
+    "append clear copy count endswith extend find get index insert isalnum isalpha isdigit islower isspace isupper items "
+    "join keys ljust lower lstrip partition pop remove replace reverse rfind rjust rpartition rsplit rstrip setdefault "
+    "split splitlines startswith strip update upper values zfill bit_length removeprefix removesuffix".split())
+AT_ONCE = {"zip", "enumerate", "reversed", "range"}
+TAKERS = {"list", "tuple", "dict", "sorted", "sum", "any", "all", "enumerate", "zip", "min", "max"}
+BARRED = set(
+    "register mro elements open input law version_info with_traceback add_note type typing enum Generic Protocol ABC "
+    "namedtuple NamedTuple dataclass overload contextmanager eval exec globals locals vars".split())
+SPECIAL = {"__init__", "__eq__", "__str__", "__len__", "__iter__", "__contains__", "__enter__", "__exit__"}
+
+
+def told_names(tree):
+    """All names that a file defines, as a dict from a name to how often the module level binds it."""
+    bound = []
+    for node in tree.body:
+        if isinstance(node, (ast.FunctionDef, ast.ClassDef)):
+            bound.append(node.name)
+        elif isinstance(node, ast.ImportFrom):
+            bound.extend(name.name for name in node.names)
+        elif isinstance(node, ast.Assign):
+            bound.extend(target.id for target in node.targets)
+    return bound
+
+
+class Language(unittest.TestCase):
+    def each(self):
+        for path in FILES:
+            text = path.read_text(encoding="utf-8")
+            tree = ast.parse(text)
+            for node in ast.walk(tree):
+                for child in ast.iter_child_nodes(node):
+                    child.parent = node
+            yield text, tree
+
+    def test_files(self):
+        for path in PACKAGE.rglob("*"):
+            if path.name != "__pycache__" and path.parent.name != "__pycache__":
+                self.assertTrue(path.is_dir() or path.suffix == ".py", path)
+                self.assertRegex(path.stem, r"\A(__init__|[a-z][a-z0-9_]*)\Z")
+                if path.is_dir():
+                    self.assertTrue((path / "__init__.py").is_file(), path)
+        self.assertLessEqual(len(FILES), 100)
+
+    def test_sizes_and_characters(self):
+        for text, tree in self.each():
+            lines = text.split("\n")
+            self.assertLessEqual(len(lines), 399)
+            for line in lines:
+                self.assertLessEqual(len(line), 120)
+                self.assertRegex(line, r"\A[ -~]*\Z")
+                self.assertEqual(line, line.rstrip())
+            for node in ast.walk(tree):
+                if isinstance(node, ast.FunctionDef):
+                    self.assertLessEqual(node.end_lineno - node.lineno + 1, 40, node.name)
+
+    def test_imports(self):
+        for _, tree in self.each():
+            ahead = True
+            for node in tree.body:
+                if isinstance(node, ast.ImportFrom):
+                    self.assertTrue(ahead and node.level == 0)
+                    self.check_import(node)
+                elif not (isinstance(node, ast.Expr) and isinstance(node.value, ast.Constant)):
+                    ahead = False
+            for node in ast.walk(tree):
+                self.assertNotIsInstance(node, ast.Import)
+
+    def check_import(self, node):
+        self.assertTrue(all(name.asname is None for name in node.names))
+        names = {name.name for name in node.names}
+        if node.module in LIBRARY:
+            self.assertLessEqual(names, LIBRARY[node.module])
+        else:
+            path = PACKAGE.parent / (node.module.replace(".", "/") + ".py")
+            defined = [one for one in ast.parse(path.read_text()).body if not isinstance(one, ast.ImportFrom)]
+            self.assertLessEqual(names, set(told_names(ast.Module(defined, []))))
+
+    def test_module_level(self):
+        for _, tree in self.each():
+            bound = told_names(tree)
+            self.assertEqual(len(bound), len(set(bound)))
+            for node in tree.body:
+                if isinstance(node, ast.Expr):
+                    self.assertIsInstance(node.value, ast.Constant)
+                else:
+                    self.assertIsInstance(node, (ast.ImportFrom, ast.FunctionDef, ast.ClassDef, ast.Assign))
+                if isinstance(node, ast.Assign):
+                    self.assertFalse([one for one in ast.walk(node.value) if isinstance(one, (ast.Call, ast.Lambda))])
+
+    def test_names(self):
+        for text, tree in self.each():
+            outer = {name for node in tree.body if isinstance(node, (ast.ImportFrom, ast.ClassDef))
+                     for name in told_names(ast.Module([node], []))}
+            for node in ast.walk(tree):
+                for name, is_local in self.bound_by(node):
+                    self.assertNotIn(name, dir(builtins))
+                    self.assertNotIn(name, BARRED)
+                    self.assertRegex(name, r"\A(_|_?[A-Za-z][A-Za-z0-9_]*)\Z")
+                    self.assertFalse(is_local and name in outer, name)
+            for word in re.findall(r"\w+", self.without_comments(text)):
+                self.assertNotIn(word, BARRED)
+
+    def bound_by(self, node):
+        if isinstance(node, ast.Name) and isinstance(node.ctx, ast.Store):
+            yield node.id, node.col_offset > 0
+        elif isinstance(node, ast.arg):
+            yield node.arg, True
+        elif isinstance(node, ast.ClassDef) or (isinstance(node, ast.FunctionDef) and node.name not in SPECIAL):
+            yield node.name, False
+
+    def without_comments(self, text):
+        text = re.sub(r'"""(.|\n)*?"""', "", text)
+        return re.sub(r"#.*", "", text)
+
+    def test_values_and_signs(self):
+        for _, tree in self.each():
+            for node in ast.walk(tree):
+                self.assertNotIsInstance(node, (
+                    ast.Div, ast.GeneratorExp, ast.Yield, ast.Global, ast.Nonlocal, ast.Set, ast.SetComp, ast.Try,
+                    ast.AsyncFunctionDef, ast.Await, ast.AnnAssign, ast.NamedExpr))
+                if isinstance(node, ast.Constant):
+                    self.assertIsInstance(node.value, (int, str, bool, type(None)))
+                    is_text = isinstance(node.value, str) and not isinstance(node.parent, ast.Expr)
+                    self.assertFalse(is_text and ("%" in node.value or "__" in node.value))
+                if isinstance(node, ast.BinOp) and isinstance(node.op, ast.Pow):
+                    self.assertIsInstance(node.right, ast.Constant)
+                    self.assertTrue(0 <= node.right.value <= 64)
+                if isinstance(node, ast.Compare):
+                    for sign, side in zip(node.ops, node.comparators):
+                        if isinstance(sign, (ast.Is, ast.IsNot)):
+                            self.assertTrue(isinstance(side, ast.Constant) and side.value in (None, True, False))
+                if isinstance(node, ast.Starred):
+                    self.assertIsInstance(node.value, ast.Name)
+
+    def test_decorators_and_methods(self):
+        for _, tree in self.each():
+            for node in ast.walk(tree):
+                if isinstance(node, ast.FunctionDef):
+                    for one in node.decorator_list:
+                        self.assertIn(one.id, ("property", "classmethod", "staticmethod"))
+                    self.assertFalse(node.returns or [one for one in ast.walk(node.args) if getattr(
+                        one, "annotation", None)])
+                    if node.name.startswith("__"):
+                        self.assertIn(node.name, SPECIAL)
+                        self.assertIsInstance(node.parent, ast.ClassDef)
+
+    def own_attributes(self):
+        found = set()
+        for path in FILES:
+            for node in ast.walk(ast.parse(path.read_text())):
+                if isinstance(node, ast.ClassDef):
+                    found |= {one.name for one in node.body if isinstance(one, ast.FunctionDef)}
+                if isinstance(node, ast.Attribute) and isinstance(node.ctx, ast.Store):
+                    found.add(node.attr)
+        return found
+
+    def test_builtins_and_methods_of_values(self):
+        own = self.own_attributes()
+        for _, tree in self.each():
+            known = BUILTINS | set(told_names(tree))
+            for node in ast.walk(tree):
+                if isinstance(node, ast.FunctionDef) and isinstance(node.parent, (ast.Module, ast.ClassDef)):
+                    local = {one.id for one in ast.walk(node) if isinstance(one, ast.Name)
+                             and isinstance(one.ctx, ast.Store)}
+                    local |= {one.arg for one in ast.walk(node) if isinstance(one, ast.arg)}
+                    for one in ast.walk(node):
+                        if isinstance(one, ast.Name) and isinstance(one.ctx, ast.Load):
+                            self.assertIn(one.id, known | local)
+                if isinstance(node, ast.Attribute):
+                    self.assertIn(node.attr, own | METHODS)
+
+    def test_iterated_at_once(self):
+        for _, tree in self.each():
+            for node in ast.walk(tree):
+                if not isinstance(node, ast.Call):
+                    continue
+                kind = getattr(node.func, "id", getattr(node.func, "attr", ""))
+                if kind in AT_ONCE or kind in ("items", "keys", "values"):
+                    above = node.parent
+                    is_looped = isinstance(above, (ast.For, ast.comprehension)) and above.iter is node
+                    is_taken = isinstance(above, ast.Call) and getattr(above.func, "id", "") in TAKERS
+                    self.assertTrue(is_looped or is_taken, (kind, node.lineno))
+                    # What stands alone in min and max does so; zip and enumerate take it as the first argument.
+                    self.assertFalse(is_taken and kind == "reversed" and above.func.id == "sorted")
+
+
+if __name__ == "__main__":
+    unittest.main()
