@@ -164,8 +164,9 @@ class Leading(Case):
                 self.same(led_pair(level, (c, d), (0, -1, 1, -1)), pair_of(level, d, -c - d))
 
     def test_determinant_zero(self):
-        self.same([led_pair(1, (0, 0), (0, 0, 0, 0)), orbit_of(1, (0, 0), (0, 0, 0, 0)), led_pair(7, (0, 1), (0, 0, 0, 0)),
-                   fixed_pairs(7, (0, 0, 0, 0)), fixed_pairs(7, (0, 0, 0, 1)), led_pair(7, (1, 0), (3, 1, 0, 0))],
+        zero = (0, 0, 0, 0)
+        self.same([led_pair(1, (0, 0), zero), orbit_of(1, (0, 0), zero), led_pair(7, (0, 1), zero),
+                   fixed_pairs(7, zero), fixed_pairs(7, (0, 0, 0, 1)), led_pair(7, (1, 0), (3, 1, 0, 0))],
                   [(0, 0), ((0, 0),), None, (), ((0, 1),), (1, 5)])
         self.refused(InvalidOperation, orbit_of, 7, (0, 1), (0, 0, 0, 0))
         self.refused(InvalidOperation, orbit_of, 12, (0, 1), (3, 0, 0, 1))

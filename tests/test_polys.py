@@ -254,7 +254,8 @@ class Factors(Case):
 
     def test_edges(self):
         self.same([poly_factors((1,)), is_irreducible((1,)), poly_factors((0, 1)), is_irreducible((0, 1)),
-                   is_irreducible((SIXTY, 1)), is_irreducible((0, 0, 1))], [(), False, (((0, 1), 1),), True, True, False])
+                   is_irreducible((SIXTY, 1)), is_irreducible((0, 0, 1))],
+                  [(), False, (((0, 1), 1),), True, True, False])
         self.same(poly_factors((0,) * 12 + (1,)), (((0, 1), 12),))
         for call in (poly_factors, is_irreducible):
             for poly in ((), (2,), (-1,), (1, 2), (1, -1), (5, 0, 3), (1,) * 12 + (2,), (1,) * 13 + (2,), (2,) * 61):
@@ -307,7 +308,8 @@ def common_modulo(one, other, prime):
         while len(one) >= len(other):
             factor = one[-1] * pow(other[-1], -1, prime)
             shift = len(one) - len(other)
-            one = cut([(entry - (factor * other[k - shift] if k >= shift else 0)) % prime for k, entry in enumerate(one)])
+            less = [0] * shift + [factor * entry for entry in other]
+            one = cut([(entry - away) % prime for entry, away in zip(one, less)])
         one, other = other, one
     return one
 

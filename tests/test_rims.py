@@ -18,7 +18,8 @@ from support import matrix_product as product
 
 GREAT = 10 ** 20
 NO_FRACTIONS = NO_INTEGERS + (
-    0, 1, (0,), (1, 2, 3), [1, 2], [(1, 2)], ((1, 2),), (2, 4), (0, 2), (0, 0), (-1, 0), (2, 0), (1, -2), (-1, -2), (0, -1),
+    0, 1, (0,), (1, 2, 3), [1, 2], [(1, 2)], ((1, 2),), (2, 4), (0, 2), (0, 0), (-1, 0), (2, 0), (1, -2), (-1, -2),
+    (0, -1),
     (True, 2), (1, True), (False, 1), (1, False), ("1", 2), (1, "2"), (1, None), "1/2", (GREAT + 1, 1),
     (-GREAT - 1, 1), (1, GREAT + 1), (3, GREAT + 9), (SIXTY, 1), (1, SIXTY_ONE), ((1,), 2), {1: 2},
 )
@@ -133,16 +134,18 @@ class Fractions(Case):
             one, other = (tuple(chance.randint(-4, 4) for _ in range(4)) for _ in range(2))
             if one[0] * one[3] != one[1] * one[2] and other[0] * other[3] != other[1] * other[2]:
                 for fraction in small_fractions(3):
-                    self.same(led_fraction(product(one, other), fraction), led_fraction(one, led_fraction(other, fraction)))
+                    by_both = led_fraction(one, led_fraction(other, fraction))
+                    self.same(led_fraction(product(one, other), fraction), by_both)
 
     def test_determinants(self):
         for matrix in ((0, 0, 0, 0), (1, 1, 1, 1), (2, 4, 3, 6), (0, 1, 0, 0), (SIXTY, SIXTY, 1, 1)):
             self.refused(InvalidMatrix, led_fraction, matrix, (1, 2))
             self.refused(InvalidMatrix, led_fraction, matrix, "x")
-        self.same([led_fraction((2, 0, 0, 1), (1, 2)), led_fraction((1, 0, 0, -1), (1, 2)), led_fraction((1, 0, 0, 2), (2, 1)),
-                   led_fraction((-1, 0, 0, -1), (1, 0)), led_fraction((-1, 0, 0, 1), (1, 0)), led_fraction((2, 0, 4, 1), (1, 0)),
-                   led_fraction((0, 1, -1, 0), (0, 1)), led_fraction((3, 0, 0, 3), (-2, 5))],
-                  [(1, 1), (-1, 2), (1, 1), (1, 0), (1, 0), (1, 2), (1, 0), (-2, 5)])
+        for matrix, fraction, wanted in (
+                ((2, 0, 0, 1), (1, 2), (1, 1)), ((1, 0, 0, -1), (1, 2), (-1, 2)), ((1, 0, 0, 2), (2, 1), (1, 1)),
+                ((-1, 0, 0, -1), (1, 0), (1, 0)), ((-1, 0, 0, 1), (1, 0), (1, 0)), ((2, 0, 4, 1), (1, 0), (1, 2)),
+                ((0, 1, -1, 0), (0, 1), (1, 0)), ((3, 0, 0, 3), (-2, 5), (-2, 5))):
+            self.same(led_fraction(matrix, fraction), wanted)
 
     def test_errors_of_led_fraction(self):
         for value in NO_MATRICES:
@@ -186,8 +189,8 @@ class Rims(Case):
                 self.assertTrue(is_fraction(rim))
 
     def test_great_fractions(self):
-        self.same([rim_of(100, (GREAT, 1)), rim_of(100, (1, GREAT)), width_of(100, (1, GREAT)), width_of(97, (1, GREAT)),
-                   rim_of(64, (GREAT - 1, GREAT))], [(0, 1), (1, 100), 1, 97, (1, 64)])
+        self.same([rim_of(100, (GREAT, 1)), rim_of(100, (1, GREAT)), width_of(100, (1, GREAT)),
+                   width_of(97, (1, GREAT)), rim_of(64, (GREAT - 1, GREAT))], [(0, 1), (1, 100), 1, 97, (1, 64)])
         for p, q in ((GREAT - 1, GREAT), (-GREAT, GREAT - 1), (GREAT // 10 + 1, GREAT)):
             for level in (36, 48, 60, 81, 100):
                 self.assertEqual(class_of(level, (p, q)), class_of(level, rim_of(level, (p, q))))
@@ -252,16 +255,21 @@ class Papers(Case):
                 for paper in (member, product(member, keeper), tuple(-entry for entry in member)):
                     self.assertIs(is_rim_paper(level, one, other, paper), True)
                 a, b, c, d = member
-                for near in ((a, b, c, d + 1), (a + 1, b, c, d), (-a, -b, c, d), (a, b, -c, -d), list(member), (a, b, c),
-                             (a, b, c, d, 0), (2 * a, 2 * b, 2 * c, 2 * d), product((1, 1, 0, 1), member),
-                             (a, b, c, str(d)), (a, b, c, None), ((a, b), (c, d))):
-                    self.assertIs(is_rim_paper(level, one, other, near), led_fraction(product((1, 1, 0, 1), member), one)
-                                  == other and near == product((1, 1, 0, 1), member))
+                for near in ((a, b, c, d + 1), (a + 1, b, c, d), (-a, -b, c, d), (a, b, -c, -d), (a, b + 1, c, d),
+                             (2 * a, 2 * b, 2 * c, 2 * d), product((1, 1, 0, 1), member)):
+                    led = near[0] * one[0] + near[1] * one[1], near[2] * one[0] + near[3] * one[1]
+                    is_led = led == other or led == (-other[0], -other[1])
+                    self.assertIs(is_rim_paper(level, one, other, near), in_group(level, near) and is_led)
+                for value in (list(member), (a, b, c), (a, b, c, d, 0), (a, b, c, str(d)), (a, b, c, None),
+                              ((a, b), (c, d))):
+                    self.assertIs(is_rim_paper(level, one, other, value), False)
 
     def test_not_in_the_group(self):
-        self.same([is_rim_paper(2, (0, 1), (0, 1), (1, 0, 1, 1)), is_rim_paper(1, (0, 1), (0, 1), (1, 0, 1, 1)),
-                   is_rim_paper(1, (0, 1), (1, 0), (0, 1, 1, 0)), is_rim_paper(1, (0, 1), (1, 0), (0, -1, 1, 0)),
-                   is_rim_paper(1, (0, 1), (1, 0), (0, True, -1, 0)), is_rim_paper(1, (1, 0), (1, 0), (True, 0, 0, True))],
+        zero, endless = (0, 1), (1, 0)
+        self.same([is_rim_paper(2, zero, zero, (1, 0, 1, 1)), is_rim_paper(1, zero, zero, (1, 0, 1, 1)),
+                   is_rim_paper(1, zero, endless, (0, 1, 1, 0)), is_rim_paper(1, zero, endless, (0, -1, 1, 0)),
+                   is_rim_paper(1, zero, endless, (0, True, -1, 0)),
+                   is_rim_paper(1, endless, endless, (True, 0, 0, True))],
                   [False, True, False, True, False, False])
         for value in NO_INTEGERS:
             self.assertIs(is_rim_paper(9, (1, 3), (2, 3), value), False)
@@ -269,9 +277,10 @@ class Papers(Case):
 
     def test_long_papers(self):
         long = 10 ** 3000
-        self.same([is_rim_paper(7, (1, 0), (1, 0), (1, long, 0, 1)), is_rim_paper(7, (1, 0), (1, 0), (-1, long, 0, -1)),
-                   is_rim_paper(7, (0, 1), (0, 1), (1, 0, 7 * long, 1)), is_rim_paper(7, (0, 1), (0, 1), (1, 0, 7 * long + 1, 1)),
-                   is_rim_paper(7, (1, 0), (1, 0), (1, long, 0, long))], [True, True, True, False, False])
+        for fraction, paper, wanted in (
+                ((1, 0), (1, long, 0, 1), True), ((1, 0), (-1, long, 0, -1), True), ((0, 1), (1, 0, 7 * long, 1), True),
+                ((0, 1), (1, 0, 7 * long + 1, 1), False), ((1, 0), (1, long, 0, long), False)):
+            self.assertIs(is_rim_paper(7, fraction, fraction, paper), wanted)
 
 
 class Keepers(Case):

@@ -121,7 +121,8 @@ class Making(Case):
             self.refused(InvalidTable, table_of, rows)
 
     def test_other_values(self):
-        for value in NO_INTEGERS + (1, (1, 2), ((1,), (1, 2)), ((1,), ()), [(1,)], ([1],), ((1,), [1]), ((1,), 1), (((1,),),)):
+        for value in NO_INTEGERS + (
+                1, (1, 2), ((1,), (1, 2)), ((1,), ()), [(1,)], ([1],), ((1,), [1]), ((1,), 1), (((1,),),)):
             if value != ():
                 self.refused(InvalidTable, table_of, value)
         for value in NO_INTEGERS:
@@ -197,6 +198,24 @@ class Echelons(Tables):
         self.assertEqual(rank_of(lesser), 60)
         last = tuple(row[60] for row in echelon(lesser))
         self.assertEqual([k for k in range(60) if last[k] == ONE], [3, 7])
+
+    def test_wide_tables_of_lesser_rank(self):
+        for width in (49, 50, 51, 55):
+            for place in (0, 20, width - 1):
+                rows = [[self.random.randint(-9, 9) for _ in range(width)] for _ in range(width + 3)]
+                self.assertEqual(rank_of(table_of(tuple(tuple(row) for row in rows))), width)
+                self.assertIs(module._is_surely_full(rows, width), True)
+                for row in rows:
+                    row[place] = 2 * row[(place + 5) % width] - row[(place + 9) % width]
+                self.assertIs(module._is_surely_full(rows, width), False)
+                table = table_of(tuple(tuple(row) for row in rows))
+                columns = tuple(zip(*table))
+                for one in (table, columns):
+                    self.assertEqual(rank_of(one), width - 1)
+                    self.assertEqual(len(echelon(one)), width - 1)
+                kernel = kernel_of(columns)
+                self.assertEqual(len(kernel), 1)
+                self.assertEqual(len([entry for entry in kernel[0] if entry != ZERO]), 3)
 
     def test_what_a_great_prime_number_divides(self):
         prime = 2 ** 61 - 1

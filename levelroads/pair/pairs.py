@@ -32,7 +32,7 @@ def is_pair(level, value):
 
 
 def check_pair(level, pair):
-    """Refuse what is no pair of a level."""
+    """Refuse what is no level, and then what is no pair of it."""
     if not is_pair(level, pair):
         raise InvalidPair("a pair is told by its least tuple")
 
@@ -79,7 +79,6 @@ def _all_pairs(level):
 
 def pair_number(level, pair):
     """The index of a pair in the ascending sequence of all pairs."""
-    check_level(level)
     check_pair(level, pair)
     return _all_pairs(level).index(pair)
 
@@ -94,7 +93,6 @@ def pair_at(level, number):
 
 def led_pair(level, pair, matrix):
     """The pair to which a matrix leads a pair, or None if it leads it to none."""
-    check_level(level)
     check_pair(level, pair)
     check_matrix(matrix)
     return _led(level, pair, matrix)
@@ -108,7 +106,6 @@ def _led(level, pair, matrix):
 
 def orbit_of(level, pair, matrix):
     """The tuple of pairs, from a pair on, in which the matrix leads each one to the next one."""
-    check_level(level)
     check_pair(level, pair)
     check_matrix(matrix)
     if gcd(matrix[0] * matrix[3] - matrix[1] * matrix[2], level) > 1:
