@@ -133,12 +133,15 @@ class Language(unittest.TestCase):
         for _, tree in self.each():
             for node in ast.walk(tree):
                 self.assertNotIsInstance(node, (
-                    ast.Div, ast.GeneratorExp, ast.Yield, ast.Global, ast.Nonlocal, ast.Set, ast.SetComp, ast.Try,
+                    ast.Div, ast.GeneratorExp, ast.Yield, ast.Global, ast.Nonlocal, ast.Set, ast.Try,
                     ast.AsyncFunctionDef, ast.Await, ast.AnnAssign, ast.NamedExpr))
                 if isinstance(node, ast.Constant):
                     self.assertIsInstance(node.value, (int, str, bool, type(None)))
                     is_text = isinstance(node.value, str) and not isinstance(node.parent, ast.Expr)
                     self.assertFalse(is_text and ("%" in node.value or "__" in node.value))
+                if isinstance(node, ast.SetComp):
+                    self.assertIsInstance(node.parent, ast.Call)
+                    self.assertIn(node.parent.func.id, ("len", "sorted"))
                 if isinstance(node, ast.BinOp) and isinstance(node.op, ast.Pow):
                     self.assertIsInstance(node.right, ast.Constant)
                     self.assertTrue(0 <= node.right.value <= 64)
@@ -174,7 +177,7 @@ class Language(unittest.TestCase):
     def test_builtins_and_methods_of_values(self):
         own = self.own_attributes()
         for _, tree in self.each():
-            known = BUILTINS | set(told_names(tree))
+            known = BUILTINS | {"iter"} | set(told_names(tree))
             for node in ast.walk(tree):
                 if isinstance(node, ast.FunctionDef) and isinstance(node.parent, (ast.Module, ast.ClassDef)):
                     local = {one.id for one in ast.walk(node) if isinstance(one, ast.Name)
@@ -185,6 +188,25 @@ class Language(unittest.TestCase):
                             self.assertIn(one.id, known | local)
                 if isinstance(node, ast.Attribute):
                     self.assertIn(node.attr, own | METHODS)
+
+    def test_iteration(self):
+        for _, tree in self.each():
+            for node in ast.walk(tree):
+                if isinstance(node, ast.Name) and node.id == "iter":
+                    above = node.parent.parent.parent
+                    self.assertEqual(above.name, "__iter__")
+                    self.assertRegex(ast.unparse(above.body), r"\Areturn iter\(self\.[a-z_]+\)\Z")
+
+    def test_what_changes_nothing(self):
+        """Operators, properties and the like assign to plain local variables alone."""
+        for _, tree in self.each():
+            for node in ast.walk(tree):
+                if isinstance(node, ast.FunctionDef) and (node.decorator_list or node.name.startswith("__")):
+                    for one in ast.walk(node):
+                        if node.name != "__init__" and isinstance(one, (ast.Attribute, ast.Subscript)):
+                            self.assertIsInstance(one.ctx, ast.Load)
+                        if node.name != "__init__":
+                            self.assertNotIsInstance(one, ast.AugAssign)
 
     def test_iterated_at_once(self):
         for _, tree in self.each():

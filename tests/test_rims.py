@@ -13,27 +13,14 @@ from levelroads.rim.rims import (
     are_same_rim, count_rims, is_fraction, is_matrix, is_rim_paper, keeper_of, led_fraction, rim_of, rim_paper, rims,
     width_of,
 )
-from support import NO_INTEGERS, NO_LEVELS, NO_MATRICES, NO_WHOLES, SIXTY, SIXTY_ONE, Case
+from support import (
+    GREAT, IDENTITY, NO_FRACTIONS, NO_INTEGERS, NO_LEVELS, NO_MATRICES, NO_WHOLES, SIXTY, SIXTY_ONE, Case, in_group,
+    random_member, small_fractions,
+)
 from support import matrix_product as product
 
-GREAT = 10 ** 20
-NO_FRACTIONS = NO_INTEGERS + (
-    0, 1, (0,), (1, 2, 3), [1, 2], [(1, 2)], ((1, 2),), (2, 4), (0, 2), (0, 0), (-1, 0), (2, 0), (1, -2), (-1, -2),
-    (0, -1),
-    (True, 2), (1, True), (False, 1), (1, False), ("1", 2), (1, "2"), (1, None), "1/2", (GREAT + 1, 1),
-    (-GREAT - 1, 1), (1, GREAT + 1), (3, GREAT + 9), (SIXTY, 1), (1, SIXTY_ONE), ((1,), 2), {1: 2},
-)
-NO_FRACTIONS = tuple(value for value in NO_FRACTIONS if value != (1, 2))
-IDENTITY = (1, 0, 0, 1)
 CALLS = {rims: (), count_rims: (), rim_of: ((1, 2),), width_of: ((1, 2),), keeper_of: ((1, 2),),
          are_same_rim: ((1, 2), (1, 3)), rim_paper: ((1, 2), (1, 3)), is_rim_paper: ((1, 2), (1, 3), None)}
-
-
-def small_fractions(size):
-    found = [(1, 0)]
-    for bottom in range(1, size + 1):
-        found += [(top, bottom) for top in range(-size, size + 1) if gcd(top, bottom) == 1]
-    return found
 
 
 def matrix_to(fraction):
@@ -55,21 +42,6 @@ def class_of(level, fraction):
     while len(found) == 1 or found[-1] != found[0]:
         found.append(led_pair(level, found[-1], (1, 1, 0, 1)))
     return frozenset(found)
-
-
-def in_group(level, matrix):
-    a, b, c, d = matrix
-    return a * d - b * c == 1 and c % level == 0
-
-
-def random_member(chance, level, size):
-    """A matrix of the group, as a product of some that surely are in it."""
-    result = IDENTITY
-    for _ in range(size):
-        times = chance.randint(-3, 3)
-        step = chance.choice(((1, times, 0, 1), (1, 0, times * level, 1), (-1, 0, 0, -1)))
-        result = product(result, step)
-    return result
 
 
 class Examples(Case):

@@ -62,7 +62,7 @@ def _check_square(table):
 # multiples do not matter for mixes, and integers need no lowest terms at each step.
 
 
-def _whole_row(row):
+def whole_row(row):
     """The integers of a row and the integer by which the row was multiplied."""
     times = 1
     for entry in row:
@@ -71,10 +71,11 @@ def _whole_row(row):
 
 
 def _whole_rows(rows):
-    return [_whole_row(row)[0] for row in rows]
+    return [whole_row(row)[0] for row in rows]
 
 
-def _divided_row(row, times):
+def divided_row(row, times):
+    """The row of ratios of which a row of integers is a multiple."""
     return tuple([exact_ratio(entry, times) for entry in row])
 
 
@@ -163,7 +164,7 @@ def echelon(table):
     """The echelon with the mixes of a table."""
     check_table(table)
     steps = _full_steps(_whole_rows(table), _width_of(table))
-    return tuple([_divided_row(row, row[column]) for column, row in steps])
+    return tuple([divided_row(row, row[column]) for column, row in steps])
 
 
 def rank_of(table):
@@ -213,12 +214,12 @@ def table_product(one, other):
 
 
 def _product(one, other):
-    columns = [_whole_row(column) for column in zip(*other)]
+    columns = [whole_row(column) for column in zip(*other)]
     return tuple([_product_row(row, columns) for row in one])
 
 
 def _product_row(row, columns):
-    entries, times = _whole_row(row)
+    entries, times = whole_row(row)
     return tuple([exact_ratio(_dot(entries, column), times * many) for column, many in columns])
 
 
@@ -231,7 +232,7 @@ def determinant_of(table):
     _check_measured(table)
     rows, bottom = [], 1
     for row in table:
-        entries, times = _whole_row(row)
+        entries, times = whole_row(row)
         rows.append(entries)
         bottom = bottom * times
     return exact_ratio(_whole_determinant(rows), bottom)
@@ -271,7 +272,7 @@ def polynomial_of(table):
     _check_measured(table)
     times = 1
     for row in table:
-        times = lcm(times, _whole_row(row)[1])
+        times = lcm(times, whole_row(row)[1])
     rows = [[entry.top * (times // entry.bottom) for entry in row] for row in table]
     ratios = []
     bottom = 1
@@ -321,16 +322,21 @@ def _told_steps(rows):
     """The full steps of some rows; behind each one stands of which multiples of the rows it is the sum."""
     told = []
     for index, row in enumerate(rows):
-        entries, times = _whole_row(row)
+        entries, times = whole_row(row)
         multiples = [0] * len(rows)
         multiples[index] = times
         told.append(entries + multiples)
     return _full_steps(told, _width_of(rows))
 
 
+def multiples_in(rows, row):
+    """The tuple of the multiples of some free rows that add up to a row, or None."""
+    return _mix_of(_told_steps(rows), row)
+
+
 def _mix_of(steps, row):
     """The multiples of the rows, of which steps are told, that add up to a row, or None."""
-    entries, many = _whole_row(row)
+    entries, many = whole_row(row)
     times = 1
     for column, lead in steps:
         times = lcm(times, lead[column])
@@ -340,7 +346,7 @@ def _mix_of(steps, row):
         mixed = [entry + factor * other for entry, other in zip(mixed, lead)]
     if mixed[:len(row)] != [times * entry for entry in entries]:
         return None
-    return _divided_row(mixed[len(row):], times * many)
+    return divided_row(mixed[len(row):], times * many)
 
 
 def is_free(table, value):

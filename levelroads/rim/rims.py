@@ -29,7 +29,8 @@ def check_fraction(fraction):
         raise InvalidFraction("a fraction is a top and a bottom in least terms, both of at most 10 ** 20")
 
 
-def _determinant(matrix):
+def matrix_determinant(matrix):
+    """The determinant of a matrix, of any length."""
     a, b, c, d = matrix
     return a * d - b * c
 
@@ -37,7 +38,7 @@ def _determinant(matrix):
 def led_fraction(matrix, fraction):
     """The fraction to which a matrix leads a fraction."""
     check_matrix(matrix)
-    if _determinant(matrix) == 0:
+    if matrix_determinant(matrix) == 0:
         raise InvalidMatrix("the determinant is not 0")
     check_fraction(fraction)
     return _led(matrix, fraction)
@@ -141,7 +142,7 @@ def _matrix_to(fraction):
 def is_rim_paper(level, one, other, value):
     """Whether a value is a matrix of the group that leads one fraction to another one."""
     _check_both(level, one, other)
-    if not is_matrix(value) or _determinant(value) != 1 or value[2] % level != 0:
+    if not is_matrix(value) or matrix_determinant(value) != 1 or value[2] % level != 0:
         return False
     return _led(value, one) == other
 

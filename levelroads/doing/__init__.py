@@ -1,0 +1,1 @@
+"""What the doings do to sums of paths."""

@@ -1,0 +1,1 @@
+"""Symbols, and the sums of paths between fractions."""
