@@ -1,0 +1,1 @@
+"""The kinds into which the staying half of a space falls."""

@@ -1,0 +1,292 @@
+"""The order of quaternions that belongs to a prime, and what its elements are multiplied and measured by."""
+
+from math import isqrt, lcm
+
+from levelroads.base.numbers import is_integer, is_prime, roots_modulo
+from levelroads.base.ratios import Ratio
+from levelroads.base.tables import divided_row, whole_row
+from levelroads.errors import InvalidCount, InvalidElement, InvalidOperation, InvalidPrime
+
+MAX_PRIME = 97
+MAX_NORM = 400
+MAX_POWER = 60
+
+
+def check_prime(prime):
+    """Refuse what is no prime from 2 to 97."""
+    if not is_prime(prime) or prime > MAX_PRIME:
+        raise InvalidPrime("a prime is a prime number from 2 to 97")
+
+
+def check_element(value):
+    """Refuse what is no tuple of four integers."""
+    if not isinstance(value, tuple) or len(value) != 4 or not all([is_integer(entry) for entry in value]):
+        raise InvalidElement("an element is a tuple of four integers")
+
+
+def _check_bounded(number, most):
+    if not is_integer(number) or not 0 <= number <= most:
+        raise InvalidCount(number)
+
+
+def least_modulus(prime):
+    """The least prime that leaves 3 modulo 4 and modulo which a prime that leaves 1 modulo 8 is no square."""
+    _check_one_modulo_eight(prime)
+    modulus = 3
+    while not is_prime(modulus) or roots_modulo(modulus, 0, -prime):
+        modulus = modulus + 4
+    return modulus
+
+
+def root_modulus(prime):
+    """The least c of at least 0 for which the least modulus q divides c * c * p + 1, p being the prime."""
+    modulus = least_modulus(prime)
+    root = 0
+    while (root * root * prime + 1) % modulus:
+        root = root + 1
+    return root
+
+
+def _check_one_modulo_eight(prime):
+    check_prime(prime)
+    if prime % 8 != 1:
+        raise InvalidOperation("the prime leaves 1 modulo 8")
+
+
+def _told_basis(prime):
+    """The squares of i and j, the quaternions of the basis multiplied by an integer, this integer, and 1, i, j and k.
+
+    These four are told by their multiples of the basis, which are integers.
+    """
+    if prime == 2:
+        tops = ((1, 1, 1, 1), (0, 2, 0, 0), (0, 0, 2, 0), (0, 0, 0, 2))
+        return (-1, -1), tops, 2, ((2, -1, -1, -1), (0, 1, 0, 0), (0, 0, 1, 0), (0, 0, 0, 1))
+    if prime % 4 == 3:
+        tops = ((1, 0, 1, 0), (0, 1, 0, 1), (0, 0, 2, 0), (0, 0, 0, 2))
+        return (-1, -prime), tops, 2, ((2, 0, -1, 0), (0, 2, 0, -1), (0, 0, 1, 0), (0, 0, 0, 1))
+    if prime % 8 == 5:
+        tops = ((2, 0, 2, 2), (0, 1, 2, 1), (0, 0, 4, 0), (0, 0, 0, 4))
+        return (-2, -prime), tops, 4, ((2, 0, -1, -1), (0, 4, -2, -1), (0, 0, 1, 0), (0, 0, 0, 1))
+    q, c = least_modulus(prime), root_modulus(prime)
+    tops = ((q, 0, q, 0), (0, q, 0, q), (0, 0, 2, 2 * c), (0, 0, 0, 2 * q))
+    return (-prime, -q), tops, 2 * q, ((2, 0, -q, c), (0, 2, 0, -1), (0, 0, q, -c), (0, 0, 0, 1))
+
+
+def _quaternion_product(squares, one, other):
+    """The product of two quaternions of integers."""
+    first, second = squares
+    a, b, c, d = one
+    x, y, z, w = other
+    return (a * x + first * b * y + second * c * z - first * second * d * w,
+            a * y + b * x - second * c * w + second * d * z,
+            a * z + c * x + first * b * w - first * d * y,
+            a * w + d * x + b * z - c * y)
+
+
+def _mixed(multiples, rows):
+    """The sum of some rows of integers, each one multiplied by an integer."""
+    return [sum([many * entry for many, entry in zip(multiples, column)]) for column in zip(*rows)]
+
+
+def _element_of(tops, bottom, units):
+    """The element that stands for a quaternion, of integers over another one, or None."""
+    row = _mixed(tops, units)
+    if any([entry % bottom for entry in row]):
+        return None
+    return tuple([entry // bottom for entry in row])
+
+
+def _conjugate(one):
+    return one[0], -one[1], -one[2], -one[3]
+
+
+class Order:
+    """The order of a prime. It never changes."""
+
+    def __init__(self, prime):
+        check_prime(prime)
+        self._prime = prime
+        squares, tops, bottom, units = _told_basis(prime)
+        self._squares = squares
+        self._tops = tops
+        self._bottom = bottom
+        self._units = units
+        self._basis = tuple([divided_row(row, bottom) for row in tops])
+        self._products = tuple([tuple([self._product_at(one, other) for other in tops]) for one in tops])
+        self._pairings = tuple([tuple([self._pairing_at(one, other) for other in tops]) for one in tops])
+
+    def _product_at(self, one, other):
+        product = _quaternion_product(self._squares, one, other)
+        return _element_of(product, self._bottom * self._bottom, self._units)
+
+    def _pairing_at(self, one, other):
+        product = _quaternion_product(self._squares, one, _conjugate(other))
+        return 2 * product[0] // (self._bottom * self._bottom)
+
+    @property
+    def prime(self):
+        """The prime."""
+        return self._prime
+
+    @property
+    def squares(self):
+        """The squares of i and of j."""
+        return self._squares
+
+    @property
+    def basis(self):
+        """The four quaternions of the basis, each one a tuple of four ratios."""
+        return self._basis
+
+    @property
+    def one(self):
+        """The element that stands for 1."""
+        return self._units[0]
+
+    @property
+    def products(self):
+        """At r and s the element that stands for the product of these quaternions of the basis."""
+        return self._products
+
+    @property
+    def pairings(self):
+        """At r and s the pairing of these quaternions of the basis."""
+        return self._pairings
+
+    def multiplied(self, x, y):
+        """The product of two elements."""
+        check_element(x)
+        check_element(y)
+        return self._times(x, y)
+
+    def _times(self, x, y):
+        return tuple(_mixed(x, [_mixed(y, row) for row in self._products]))
+
+    def conjugated(self, x):
+        """The conjugate of an element."""
+        check_element(x)
+        return self._back(x)
+
+    def _back(self, x):
+        trace = self._trace(x)
+        return tuple([trace * entry - less for entry, less in zip(self.one, x)])
+
+    def norm_of(self, x):
+        """The norm of an element."""
+        check_element(x)
+        return self._pairing(x, x) // 2
+
+    def trace_of(self, x):
+        """The trace of an element."""
+        check_element(x)
+        return self._trace(x)
+
+    def _trace(self, x):
+        return self._pairing(x, self.one)
+
+    def pairing(self, x, y):
+        """The trace of the product of an element and the conjugate of another one."""
+        check_element(x)
+        check_element(y)
+        return self._pairing(x, y)
+
+    def _pairing(self, x, y):
+        return sum([entry * other for entry, other in zip(y, _mixed(x, self._pairings))])
+
+    def raised(self, x, many):
+        """An element multiplied by itself so many times."""
+        check_element(x)
+        _check_bounded(many, MAX_POWER)
+        power = self.one
+        for _ in range(many):
+            power = self._times(power, x)
+        return power
+
+    def quaternion_of(self, x):
+        """The quaternion of an element, a tuple of four ratios."""
+        check_element(x)
+        return divided_row(_mixed(x, self._tops), self._bottom)
+
+    def element_at(self, row):
+        """The element that stands for a quaternion."""
+        if not isinstance(row, tuple) or len(row) != 4 or not all([isinstance(entry, Ratio) for entry in row]):
+            raise InvalidElement("a quaternion is a tuple of four ratios")
+        tops, bottom = whole_row(row)
+        found = _element_of(tops, bottom, self._units)
+        if found is None:
+            raise InvalidOperation("the quaternion is in the order")
+        return found
+
+    def elements_of(self, number):
+        """The ascending tuple of all elements of a norm."""
+        _check_bounded(number, MAX_NORM)
+        return _all_of_norm(self._pairings, number)
+
+    def quotient(self, x, y):
+        """The element by which another one is multiplied, from the left, to be the first one, or None."""
+        check_element(x)
+        check_element(y)
+        norm = self._pairing(y, y) // 2
+        if norm == 0:
+            raise InvalidOperation("nothing is divided by zero")
+        row = self._times(x, self._back(y))
+        if any([entry % norm for entry in row]):
+            return None
+        return tuple([entry // norm for entry in row])
+
+    def __eq__(self, other):
+        return isinstance(other, Order) and self._prime == other.prime
+
+    def __str__(self):
+        return f"order of {self._prime}"
+
+
+# Twice the norm of an element x is the sum of weight * L * L / D over four sums L of multiples of the integers of x,
+# of which each one leaves out one integer more: only a few integers make the last one small, to begin with.
+
+
+def _all_of_norm(pairings, number):
+    steps, total = _steps_of(pairings)
+    layer = [((), 2 * number * total)]
+    for row, weight in steps[:0:-1]:
+        layer = [longer for tail, rest in layer for longer in _longer(row, weight, tail, rest)]
+    row, weight = steps[0]
+    return tuple(sorted([found for tail, rest in layer for found in _ended(row, weight, tail, rest)]))
+
+
+def _steps_of(pairings):
+    """The rows of the sums L with their weights, and D; all of them are integers."""
+    rest = pairings
+    last = 1
+    rows = []
+    while rest:
+        lead = rest[0]
+        rows.append((lead, last * lead[0]))
+        rest = [[(lead[0] * entry - row[0] * other) // last for entry, other in zip(row[1:], lead[1:])]
+                for row in rest[1:]]
+        last = lead[0]
+    total = 1
+    for _, part in rows:
+        total = lcm(total, part)
+    return [(row, total // part) for row, part in rows], total
+
+
+def _longer(row, weight, tail, rest):
+    """All that come from the last integers of an element with one integer ahead of them, with what is left."""
+    lead, shift = row[0], sum([many * entry for many, entry in zip(row[1:], tail)])
+    most = isqrt(rest // weight)
+    found = []
+    for entry in range(-((most + shift) // lead), (most - shift) // lead + 1):
+        value = lead * entry + shift
+        found.append(((entry,) + tail, rest - weight * value * value))
+    return found
+
+
+def _ended(row, weight, tail, rest):
+    """All elements that come from their last three integers, with nothing left."""
+    lead, shift = row[0], sum([many * entry for many, entry in zip(row[1:], tail)])
+    root = isqrt(rest // weight)
+    if weight * root * root != rest:
+        return []
+    values = [root, -root] if root else [0]
+    return [((value - shift) // lead,) + tail for value in values if (value - shift) % lead == 0]

@@ -1,0 +1,1 @@
+"""Traces of doings, by counting binary forms."""
