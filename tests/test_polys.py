@@ -246,6 +246,58 @@ class Factors(Case):
                 self.assertFalse(irreducible_modulo(poly, prime))
         self.check([(1, 0, 0, 0, 1), (576, 0, -960, 0, 352, 0, -40, 0, 1)])
 
+    def plain_parts(self, poly):
+        """The irreducible factors of a monic polynomial of the degrees 1 to 3, by all integers that can be roots."""
+        if len(poly) == 2:
+            return [poly]
+        for root in range(-1 - max(abs(entry) for entry in poly), 2 + max(abs(entry) for entry in poly)):
+            if sum(entry * root ** k for k, entry in enumerate(poly)) == 0:
+                return [(-root, 1)] + self.plain_parts(poly_quotient(poly, (-root, 1)))
+        return [poly]
+
+    def test_products_of_small_degrees(self):
+        met = 0
+        for size in (1, 2, 6, 30, 300):
+            for _ in range(150 if size < 300 else 40):
+                parts = []
+                for _ in range(self.random.randint(1, 6)):
+                    degree = self.random.randint(1, 3)
+                    part = tuple(self.random.randint(-size, size) for _ in range(degree)) + (1,)
+                    parts += self.plain_parts(part) * self.random.choice((1, 1, 1, 2))
+                met += self.check(parts)
+        self.assertGreater(met, 400)
+
+    def test_great_values(self):
+        """Where the values at 0 or at 1 are so great, or have so many divisors, that these are not tried."""
+        for end in (720720, 49999, 50000, 50001, 10 ** 9, 10 ** 15 + 37):
+            for parts in ([(end, 1), (-end, 1), (1, 1)], [(end, 1, 1), (1, 0, 1)], [(end, 0, 1)] * 2 + [(7, 1)],
+                          [(2 * end + 1, 2, 1), (1, 1)], [(2, 0, 0, 1), (end - 2, end, 1)],
+                          [(1, 1, 1), (1, end, 1)], [(2, 0, end * 2, 1), (1, 1, end * 3 + 1, 1)]):
+                self.assertEqual(self.check(parts), 1)
+        # A product of quadratic polynomials whose values at 0 and 1 have very many divisors.
+        self.check([(12, 0, 1), (60, 0, 1), (30, 1, 1), (20, 3, 1)])
+        self.check([(5040, 0, 1), (12, 1, 1), (-2, 0, 0, 1)])
+
+    def test_alike_modulo_many(self):
+        """Factors that are the same modulo many prime numbers, once or more often."""
+        many = 4
+        for prime in (3, 5, 7, 11, 13, 17, 19, 23, 29, 31):
+            many *= prime
+        one, other = (2, 0, 0, 1), (2 + many, 0, 0, 1)
+        for parts in ([one, other], [one, one, other], [one, one], [other] * 3, [one, other, (1, 1)],
+                      [(2, 0, 0, 0, 1), (2 + many, 0, 0, 0, 1)], [(2, 0, 0, 0, 1)] * 3):
+            self.assertEqual(self.check(parts), 1)
+
+    def test_reported(self):
+        """Inputs that once took long."""
+        self.same(poly_factors((0, 48, -144, -3, -167, -96, -53, -10, 4, 1)),
+                  (((-4, 1), 1), ((0, 1), 1), ((4, 1), 1), ((-1, 3, 1, 1), 1), ((3, 0, 3, 1), 1)))
+        self.same(poly_factors((0, -4, 9, 9, 18, 10, 5, 1)), (((0, 1), 1), ((-1, 3, 1, 1), 1), ((4, 3, 4, 1), 1)))
+        self.same(poly_factors((36, 72, 104, 73, 42, 9, -42, -11, 4, 1)),
+                  (((-3, 1), 1), ((1, 1), 1), ((3, 1), 1), ((-1, -1, -1, 1), 1), ((4, 0, 4, 1), 1)))
+        self.same([is_irreducible(poly) for poly in ((1, 1), (-1, -1, 1), (1, 0, 1, 1), (1, 0, 0, 0, 1), (6, -5, 1))],
+                  [True, True, True, True, False])
+
     def test_order(self):
         parts = [(5, 1), (-5, 1), (0, 1), (1, 1), (1, 0, 1), (-2, 0, 1), (1, 1, 1), (2, 0, 1)]
         self.check(parts)

@@ -1,23 +1,25 @@
-"""Polynomials with integers without checks, and the irreducible ones that divide a monic one.
+"""Polynomials with integers without checks, and the factors of monic ones by those modulo a prime number.
 
-A polynomial is a tuple of integers, that of the power 0 first, the last one not 0. Modulo a prime number
-its integers are residues.
+A polynomial is a tuple of integers, that of the power 0 first, the last one not 0. Modulo a prime number it is a list
+of residues, the last one not 0.
 """
 
-from math import gcd
+from math import comb, gcd, isqrt
 
 from levelroads.base.numbers import inverse_modulo, is_prime
 
 # With lesser prime numbers more steps of lifting are needed, with greater ones more tries of splitting.
-_LEAST_PRIME = 11
+_LEAST_PRIME = 5
+# So many prime numbers are tried before a polynomial is asked for repeated factors.
+_TRIES = 2
 
 
 def trimmed(entries):
-    """The polynomial with some integers, perhaps with zeros at their end."""
+    """The list of some integers without zeros at its end."""
     size = len(entries)
     while size and entries[size - 1] == 0:
         size = size - 1
-    return tuple(entries[:size])
+    return entries[:size]
 
 
 def product_of(one, other):
@@ -26,8 +28,9 @@ def product_of(one, other):
         return ()
     entries = [0] * (len(one) + len(other) - 1)
     for low, factor in enumerate(one):
-        for at, entry in enumerate(other):
-            entries[low + at] += factor * entry
+        if factor:
+            for at, entry in enumerate(other):
+                entries[low + at] += factor * entry
     return tuple(entries)
 
 
@@ -35,12 +38,14 @@ def quotient_of(one, other):
     """The polynomial whose product with the second one is the first one, or None."""
     rest = list(one)
     entries = []
+    lead = other[-1]
     for low in range(len(one) - len(other), -1, -1):
-        factor, left = divmod(rest[low + len(other) - 1], other[-1])
+        factor, left = divmod(rest[-1], lead)
         if left:
             return None
-        for at, entry in enumerate(other):
-            rest[low + at] -= factor * entry
+        rest.pop()
+        if factor:
+            rest[low:] = [entry - factor * less for entry, less in zip(rest[low:], other)]
         entries.append(factor)
     return None if any(rest) else tuple(entries[::-1])
 
@@ -76,54 +81,179 @@ def _pseudo_rest(one, other):
     return rest
 
 
+def without_repeated(poly):
+    """The product of the irreducible factors of a monic polynomial, each taken once."""
+    return quotient_of(poly, common_of(poly, _derived(poly)))
+
+
 def _derived(poly):
     return tuple([power * entry for power, entry in enumerate(poly)][1:])
+
+
+def factors_by_prime(poly, prime):
+    """The list of the irreducible factors of a monic polynomial that has no repeated ones modulo a prime number."""
+    parts = _split([entry % prime for entry in poly], prime)
+    if len(parts) == 1:
+        return [poly]
+    lifted, modulus = _lifted(poly, parts, prime)
+    return _joined(poly, lifted, modulus)
+
+
+def good_prime(poly):
+    """A prime number modulo which a monic polynomial has no repeated factors, or None if it has some itself."""
+    prime = _LEAST_PRIME
+    tries = 1
+    while _has_repeated(poly, prime):
+        if tries == _TRIES and len(common_of(poly, _derived(poly))) > 1:
+            return None
+        tries = tries + 1
+        prime = prime + 2
+        while not is_prime(prime):
+            prime = prime + 2
+    return prime
+
+
+def _has_repeated(poly, prime):
+    return len(_common_residues(_residues(poly, prime), _residues(_derived(poly), prime), prime)) > 1
+
+
+# Below, all is modulo a prime number, and what is divided by is monic.
 
 
 def _residues(poly, prime):
     return trimmed([entry % prime for entry in poly])
 
 
-def _divided(one, other, prime):
-    """The quotient and the rest modulo a prime number."""
-    rest = list(one)
-    entries = []
-    inverse = inverse_modulo(prime, other[-1])
-    for low in range(len(one) - len(other), -1, -1):
-        factor = rest[low + len(other) - 1] * inverse % prime
-        for at, entry in enumerate(other):
-            rest[low + at] = (rest[low + at] - factor * entry) % prime
-        entries.append(factor)
-    return trimmed(entries[::-1]), trimmed(rest)
-
-
 def _rest_of(one, other, prime):
-    return _divided(one, other, prime)[1]
-
-
-def _common_residues(one, other, prime):
-    """The monic common divisor of the greatest degree modulo a prime number."""
-    high, low = one, other
-    while low:
-        high, low = low, _rest_of(high, low, prime)
-    inverse = inverse_modulo(prime, high[-1])
-    return tuple([entry * inverse % prime for entry in high])
+    rest = list(one)
+    size = len(other) - 1
+    while len(rest) > size:
+        factor = rest.pop()
+        if factor:
+            low = len(rest) - size
+            rest[low:] = [(entry - factor * less) % prime for entry, less in zip(rest[low:], other)]
+    return trimmed(rest)
 
 
 def _product_rest(one, other, poly, prime):
-    return _rest_of(_residues(product_of(one, other), prime), poly, prime)
+    return _rest_of([entry % prime for entry in product_of(one, other)], poly, prime)
+
+
+def _monic(poly, prime):
+    if poly[-1] == 1:
+        return poly
+    inverse = inverse_modulo(prime, poly[-1])
+    return [entry * inverse % prime for entry in poly]
+
+
+def _common_residues(one, other, prime):
+    """The monic common divisor of the greatest degree of a monic polynomial and another one."""
+    high, low = one, other
+    while low:
+        if len(low) == 1:
+            return [1]
+        low = _monic(low, prime)
+        high, low = low, _rest_of(high, low, prime)
+    return high
+
+
+def _kept_rows(poly, prime):
+    """Free polynomials that stay, modulo `poly`, if they are raised to the prime number; 1 is left out of them."""
+    size = len(poly) - 1
+    power = [1] + [0] * (size - 1)
+    rest = []
+    for place in range(1, size):
+        for _ in range(prime):
+            top = power[-1]
+            power = [0] + power[:-1]
+            if top:
+                power = [(entry - top * less) % prime for entry, less in zip(power, poly)]
+        # Behind each change stands of what it is the change.
+        change = power + [0] * size
+        change[place] -= 1
+        change[size + place] = 1
+        rest.append(change)
+    for column in range(size):
+        met = [row for row in rest if row[column]]
+        if met:
+            lead = _monic_at(met[0], column, prime)
+            rest = [row for row in rest if not row[column]] + [_cleared(row, lead, column, prime) for row in met[1:]]
+    return [row[size:] for row in rest]
+
+
+def _monic_at(row, column, prime):
+    inverse = inverse_modulo(prime, row[column])
+    return [entry * inverse % prime for entry in row]
+
+
+def _cleared(row, lead, column, prime):
+    times = row[column]
+    return [(entry - times * other) % prime for entry, other in zip(row, lead)]
+
+
+def _split(poly, prime):
+    """The irreducible factors, modulo a prime number, of a monic polynomial without repeated ones."""
+    rows = _kept_rows(poly, prime)
+    parts = [poly]
+    for row in rows:
+        if len(parts) <= len(rows):
+            parts = [piece for part in parts for piece in _pieces(part, trimmed(row), prime)]
+    return parts
+
+
+def _pieces(part, row, prime):
+    """The factors of a polynomial, modulo each of which a row leaves another constant."""
+    rest = _rest_of(row, part, prime)
+    if len(rest) < 2:
+        return [part]
+    found = []
+    left = len(part) - 1
+    for constant in range(prime):
+        if left:
+            piece = _common_residues(part, [(rest[0] - constant) % prime] + rest[1:], prime)
+            if len(piece) > 1:
+                found.append(piece)
+                left = left - len(piece) + 1
+    return found
+
+
+def _inverses_of(parts, prime):
+    """For each part the inverse, modulo it, of the product of all others."""
+    found = []
+    for index, part in enumerate(parts):
+        others = [1]
+        for other in parts[:index] + parts[index + 1:]:
+            others = _product_rest(others, other, part, prime)
+        found.append(_inverse_residues(others, part, prime))
+    return found
 
 
 def _inverse_residues(one, poly, prime):
-    """The polynomial whose product with `one` leaves 1 modulo `poly` and a prime number."""
-    high, low = poly, _rest_of(one, poly, prime)
-    before, now = (), (1,)
-    while low:
+    """The polynomial whose product with `one` leaves 1 modulo `poly`."""
+    high, low = poly, one
+    before, now = [], [1]
+    while len(low) > 1:
+        inverse = inverse_modulo(prime, low[-1])
+        low = [entry * inverse % prime for entry in low]
+        now = [entry * inverse % prime for entry in now]
         times, rest = _divided(high, low, prime)
         high, low = low, rest
         before, now = now, _minus(before, product_of(times, now), prime)
-    inverse = inverse_modulo(prime, high[-1])
-    return _residues([entry * inverse for entry in before], prime)
+    inverse = inverse_modulo(prime, low[0])
+    return [entry * inverse % prime for entry in now]
+
+
+def _divided(one, other, prime):
+    """The quotient and the rest."""
+    rest = list(one)
+    size = len(other) - 1
+    entries = []
+    while len(rest) > size:
+        factor = rest.pop()
+        low = len(rest) - size
+        rest[low:] = [(entry - factor * less) % prime for entry, less in zip(rest[low:], other)]
+        entries.append(factor)
+    return entries[::-1], trimmed(rest)
 
 
 def _minus(one, other, prime):
@@ -135,74 +265,25 @@ def _padded(poly, size):
     return list(poly) + [0] * (size - len(poly))
 
 
-def _prime_power(poly, prime):
-    """X to the power of a prime number, modulo this and a polynomial."""
-    power = (1,)
-    square = _rest_of((0, 1), poly, prime)
-    rest = prime
-    while rest:
-        if rest % 2:
-            power = _product_rest(power, square, poly, prime)
-        square = _product_rest(square, square, poly, prime)
-        rest = rest // 2
-    return power
+# From here on the factors of a polynomial with integers are told modulo a power of the prime number.
 
 
-def _kept_rows(poly, prime):
-    """Free rows of the polynomials that stay, modulo `poly`, if they are raised to a prime number."""
-    size = len(poly) - 1
-    step = _prime_power(poly, prime)
-    power = (1,)
-    rest = []
-    for place in range(size):
-        change = _padded(power, size)
-        change[place] -= 1
-        # Behind each change stands of what it is the change.
-        rest.append(change + [1 if at == place else 0 for at in range(size)])
-        power = _product_rest(power, step, poly, prime)
-    for column in range(size):
-        met = [row for row in rest if row[column] % prime]
-        rest = [row for row in rest if row[column] % prime == 0]
-        rest = rest + [_cleared(row, met[0], column, prime) for row in met[1:]]
-    return [row[size:] for row in rest]
-
-
-def _cleared(row, lead, column, prime):
-    times = row[column] * inverse_modulo(prime, lead[column])
-    return [(entry - times * other) % prime for entry, other in zip(row, lead)]
-
-
-def _split(poly, prime):
-    """The irreducible factors, modulo a prime number, of a monic polynomial without repeated ones."""
-    rows = _kept_rows(poly, prime)
-    parts = [poly]
-    for row in rows:
-        if len(parts) < len(rows):
-            parts = [piece for part in parts for piece in _pieces(part, row, prime)]
-    return parts
-
-
-def _pieces(part, row, prime):
-    """The factors of a polynomial, modulo each of which a row leaves another constant."""
-    found = []
-    for constant in range(prime):
-        less = _residues([row[0] - constant] + row[1:], prime)
-        piece = _common_residues(part, less, prime)
-        if len(piece) > 1:
-            found.append(piece)
-    return found
-
-
-def _good_prime(poly):
-    """A prime number modulo which a monic polynomial has no repeated factors."""
-    prime = _LEAST_PRIME
-    while not is_prime(prime) or _has_repeated(poly, prime):
-        prime = prime + 1
-    return prime
-
-
-def _has_repeated(poly, prime):
-    return len(_common_residues(_residues(poly, prime), _residues(_derived(poly), prime), prime)) > 1
+def _lifted(poly, parts, prime):
+    """The monic factors modulo a power of a prime number, and this power, which tells all factors of half the degree.
+    """
+    half = (len(poly) - 1) // 2
+    # No integer of a monic factor of this degree is further from 0, by the bound of Mignotte.
+    bound = comb(half, half // 2) * (isqrt(sum([entry * entry for entry in poly])) + 1)
+    inverses = _inverses_of(parts, prime)
+    lifted = parts
+    modulus = prime
+    while modulus <= 2 * bound:
+        product = _product_of_all(lifted)
+        missing = [(entry - other) // modulus % prime for entry, other in zip(poly, product)]
+        further = [_product_rest(missing, inverse, part, prime) for inverse, part in zip(inverses, parts)]
+        lifted = [_added(part, more, modulus) for part, more in zip(lifted, further)]
+        modulus = modulus * prime
+    return lifted, modulus
 
 
 def _product_of_all(parts):
@@ -212,31 +293,8 @@ def _product_of_all(parts):
     return product
 
 
-def _inverses_of(parts, prime):
-    """For each part the inverse, modulo it, of the product of all others."""
-    found = []
-    for index, part in enumerate(parts):
-        others = _residues(_product_of_all(parts[:index] + parts[index + 1:]), prime)
-        found.append(_inverse_residues(others, part, prime))
-    return found
-
-
-def _lifted(poly, parts, prime, bound):
-    """The monic factors modulo the first power of a prime number above a bound, and this power."""
-    inverses = _inverses_of(parts, prime)
-    lifted = parts
-    modulus = prime
-    while modulus <= bound:
-        product = _product_of_all(lifted)
-        missing = _residues([(entry - other) // modulus for entry, other in zip(poly, product)], prime)
-        further = [_product_rest(missing, inverse, part, prime) for inverse, part in zip(inverses, parts)]
-        lifted = [_added(part, more, modulus) for part, more in zip(lifted, further)]
-        modulus = modulus * prime
-    return lifted, modulus
-
-
 def _added(poly, more, times):
-    return tuple([entry + times * other for entry, other in zip(poly, _padded(more, len(poly)))])
+    return [entry + times * other for entry, other in zip(poly, _padded(more, len(poly)))]
 
 
 def _balanced(poly, modulus):
@@ -245,29 +303,8 @@ def _balanced(poly, modulus):
     return tuple([(entry + half) % modulus - half for entry in poly])
 
 
-def _choices(many, size):
-    """All ascending lists of so many numbers below `many`."""
-    found = [[]]
-    for _ in range(size):
-        found = [chosen + [k] for chosen in found for k in range(chosen[-1] + 1 if chosen else 0, many)]
-    return found
-
-
-def _first_factor(poly, parts, modulus, size):
-    """The numbers of so many parts whose product divides a polynomial, and their product, or None."""
-    for chosen in _choices(len(parts), size):
-        trial = _balanced(_product_of_all([parts[k] for k in chosen]), modulus)
-        if quotient_of(poly, trial) is not None:
-            return chosen, trial
-    return None
-
-
-def irreducible_factors(poly):
-    """The irreducible factors of a monic polynomial of a degree of at least 1 without repeated ones."""
-    prime = _good_prime(poly)
-    # No integer of a monic factor is further from 0 than a quarter of this, by the bound of Mignotte.
-    bound = (2 << len(poly)) * sum([abs(entry) for entry in poly])
-    parts, modulus = _lifted(poly, _split(_residues(poly, prime), prime), prime, bound)
+def _joined(poly, parts, modulus):
+    """The irreducible factors of a polynomial, by products of its factors modulo an integer."""
     rest = poly
     found = []
     size = 1
@@ -285,6 +322,25 @@ def irreducible_factors(poly):
     return found
 
 
-def without_repeated(poly):
-    """The product of the irreducible factors of a monic polynomial, each taken once."""
-    return quotient_of(poly, common_of(poly, _derived(poly)))
+def _first_factor(poly, parts, modulus, size):
+    """The numbers of so many parts whose product tells a factor of a polynomial, and this factor, or None."""
+    for chosen in _choices(len(parts), size):
+        some = [part for k, part in enumerate(parts) if k in chosen]
+        degree = sum([len(part) - 1 for part in some])
+        is_low = 2 * degree < len(poly)
+        if not is_low:
+            # The factor of the other parts is the one whose integers the modulus surely tells.
+            some = [part for k, part in enumerate(parts) if k not in chosen]
+        trial = _balanced(_product_of_all(some), modulus)
+        other = quotient_of(poly, trial)
+        if other is not None:
+            return chosen, trial if is_low else other
+    return None
+
+
+def _choices(many, size):
+    """All ascending lists of so many numbers below `many`."""
+    found = [[]]
+    for _ in range(size):
+        found = [chosen + [k] for chosen in found for k in range(chosen[-1] + 1 if chosen else 0, many)]
+    return found
