@@ -54,6 +54,25 @@ def check_matrix(matrix):
         raise InvalidMatrix("a matrix is a tuple of four integers")
 
 
+def check_integers(numbers):
+    """Refuse the first one of some values that is no integer."""
+    for number in numbers:
+        if not is_integer(number):
+            raise InvalidCount(number)
+
+
+def check_bounded(number, least, most):
+    """Refuse what is no integer between two others, or one of these."""
+    if not is_integer(number) or not least <= number <= most:
+        raise InvalidCount(number)
+
+
+def check_proper(level, number):
+    """Refuse an integer that has a common divisor above 1 with a level."""
+    if gcd(level, number) > 1:
+        raise InvalidOperation("the number has no common divisor with the level")
+
+
 def _check_positive(number):
     if not is_integer(number) or number < 1:
         raise InvalidCount(number)
@@ -62,11 +81,6 @@ def _check_positive(number):
 def _check_factored(number):
     if number > MAX_FACTORED:
         raise TooMany(MAX_FACTORED)
-
-
-def _check_modulus(modulus):
-    if not is_integer(modulus) or not 1 <= modulus <= MAX_MODULUS:
-        raise InvalidCount(modulus)
 
 
 def common_divisor(numbers):
@@ -127,7 +141,7 @@ def _divisors_of(number):
 
 def count_units(modulus):
     """How many units there are modulo an integer."""
-    _check_modulus(modulus)
+    check_bounded(modulus, 1, MAX_MODULUS)
     many = modulus
     for prime in _powers_in(modulus):
         many = many // prime * (prime - 1)
@@ -136,7 +150,7 @@ def count_units(modulus):
 
 def unit_inverse(modulus, number):
     """The unit that, multiplied by a number, leaves the same residue as 1."""
-    _check_modulus(modulus)
+    check_bounded(modulus, 1, MAX_MODULUS)
     if not is_integer(number) or gcd(number, modulus) > 1:
         raise InvalidCount(number)
     return inverse_modulo(modulus, number)
@@ -155,10 +169,8 @@ def inverse_modulo(modulus, number):
 
 def roots_modulo(modulus, linear, constant):
     """The residues x for which the modulus divides x * x + linear * x + constant."""
-    _check_modulus(modulus)
-    for number in (linear, constant):
-        if not is_integer(number):
-            raise InvalidCount(number)
+    check_bounded(modulus, 1, MAX_MODULUS)
+    check_integers((linear, constant))
     # Short integers keep the sums below short, too.
     middle, last = linear % modulus, constant % modulus
     return tuple([x for x in range(modulus) if ((x + middle) * x + last) % modulus == 0])

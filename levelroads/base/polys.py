@@ -3,8 +3,8 @@
 from math import isqrt
 
 from levelroads.base.factors import common_of, factors_by_prime, good_prime, product_of, quotient_of, without_repeated
-from levelroads.base.numbers import is_integer, is_whole
-from levelroads.errors import InvalidCount, InvalidOperation, InvalidPolynomial, TooMany
+from levelroads.base.numbers import check_integers, is_integer, is_whole
+from levelroads.errors import InvalidOperation, InvalidPolynomial, TooMany
 
 MAX_DEGREE = 60
 MAX_FACTORED = 12
@@ -49,8 +49,7 @@ def poly_quotient(one, other):
 def poly_value(poly, number):
     """The value of a polynomial at an integer."""
     _check_polynomial(poly)
-    if not is_integer(number):
-        raise InvalidCount(number)
+    check_integers((number,))
     return _value(poly, number)
 
 

@@ -79,6 +79,15 @@ def divided_row(row, times):
     return tuple([exact_ratio(entry, times) for entry in row])
 
 
+def mixed_row(multiples, rows, width):
+    """The sum of some rows of integers, all of this width, each one multiplied by an integer."""
+    mixed = [0] * width
+    for many, row in zip(multiples, rows):
+        if many:
+            mixed = [entry + many * other for entry, other in zip(mixed, row)]
+    return mixed
+
+
 def _shortened(row):
     """A row of integers, divided by what divides all of them."""
     shared = 0

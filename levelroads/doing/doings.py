@@ -1,9 +1,9 @@
 """The doings on sums of paths, turning and exchanging, and their tables on the parts of a space."""
 
-from levelroads.base.numbers import is_integer
+from levelroads.base.numbers import check_bounded
 from levelroads.base.ratios import Ratio
-from levelroads.base.tables import divided_row, kernel_of, whole_row
-from levelroads.errors import InvalidCount, UnknownName
+from levelroads.base.tables import divided_row, kernel_of, mixed_row, whole_row
+from levelroads.errors import UnknownName
 from levelroads.rim.rims import led_fraction
 from levelroads.symbol.symbols import Sum, check_space, check_sum, path_ends
 
@@ -13,8 +13,7 @@ PARTS = ("all", "closed", "staying")
 
 def check_doing(number):
     """Refuse what is no integer from 1 to 60."""
-    if not is_integer(number) or not 1 <= number <= MAX_DOING:
-        raise InvalidCount(number)
+    check_bounded(number, 1, MAX_DOING)
 
 
 def _check_part(part):
@@ -88,17 +87,9 @@ def _exchanged_images(space):
     return images
 
 
-def _led_row(images, entries):
-    row = [0] * len(images)
-    for many, image in zip(entries, images):
-        if many:
-            row = [entry + many * other for entry, other in zip(row, image)]
-    return row
-
-
 def _led_sum(told, images):
     entries, times = whole_row(told.row)
-    return Sum(told.space, divided_row(_led_row(images, entries), times))
+    return Sum(told.space, divided_row(mixed_row(entries, images, len(images)), times))
 
 
 def table_on(rows, images):
@@ -108,7 +99,7 @@ def table_on(rows, images):
     table = []
     for row in rows:
         entries, times = whole_row(row)
-        led = _led_row(images, entries)
+        led = mixed_row(entries, images, len(images))
         table.append(divided_row([led[lead] for lead in leads], times))
     return tuple(table)
 

@@ -2,9 +2,9 @@
 
 from math import gcd, isqrt
 
-from levelroads.base.numbers import check_matrix, is_integer
+from levelroads.base.numbers import check_bounded, check_integers, check_matrix, is_integer
 from levelroads.base.ratios import Ratio
-from levelroads.errors import InvalidCount, InvalidForm, InvalidMatrix, TooMany
+from levelroads.errors import InvalidForm, InvalidMatrix, TooMany
 from levelroads.rim.groups import product_matrix
 from levelroads.rim.rims import is_matrix, matrix_determinant
 
@@ -27,11 +27,6 @@ def _check_form(form):
 def _check_forms(one, other):
     _check_form(one)
     _check_form(other)
-
-
-def _check_bounded(number, most):
-    if not is_integer(number) or not 1 <= number <= most:
-        raise InvalidCount(number)
 
 
 def _measure(form):
@@ -72,9 +67,7 @@ def _divisor_of(form):
 def value_of(form, x, y):
     """The value of a form at two integers."""
     _check_form(form)
-    for number in (x, y):
-        if not is_integer(number):
-            raise InvalidCount(number)
+    check_integers((x, y))
     return _value(form, x, y)
 
 
@@ -180,7 +173,7 @@ def weight_of(form):
 
 def forms_of(measure):
     """The ascending tuple of all reduced forms of a measure."""
-    _check_bounded(measure, MAX_MEASURE)
+    check_bounded(measure, 1, MAX_MEASURE)
     return _forms(measure)
 
 
@@ -203,19 +196,19 @@ def _primitive_forms(measure):
 
 def class_number(measure):
     """The number of the reduced primitive forms of a measure."""
-    _check_bounded(measure, MAX_MEASURE)
+    check_bounded(measure, 1, MAX_MEASURE)
     return len(_primitive_forms(measure))
 
 
 def weighted_number(measure):
     """The sum of the weights of the reduced primitive forms of a measure."""
-    _check_bounded(measure, MAX_MEASURE)
+    check_bounded(measure, 1, MAX_MEASURE)
     return _sum_of_weights(_primitive_forms(measure))
 
 
 def whole_number(measure):
     """The sum of the weights of all reduced forms of a measure."""
-    _check_bounded(measure, MAX_MEASURE)
+    check_bounded(measure, 1, MAX_MEASURE)
     return _sum_of_weights(_forms(measure))
 
 
@@ -227,7 +220,7 @@ def _sum_of_weights(forms):
 def count_shown(form, number):
     """At how many pairs of integers without a common divisor a form shows a number."""
     _check_form(form)
-    _check_bounded(number, MAX_SHOWN)
+    check_bounded(number, 1, MAX_SHOWN)
     if _measure(form) > MAX_MEASURE:
         raise TooMany(MAX_MEASURE)
     # Alike forms show a number equally often, and the values of the reduced one are small at small integers only.
@@ -253,6 +246,6 @@ def _count_shown(form, number):
 
 def count_roots(measure, number):
     """The number of the integers b from 0 to 2 n - 1 with 4 n a divisor of b b + m: n the number, m the measure."""
-    _check_bounded(measure, MAX_MEASURE)
-    _check_bounded(number, MAX_SHOWN)
+    check_bounded(measure, 1, MAX_MEASURE)
+    check_bounded(number, 1, MAX_SHOWN)
     return len([b for b in range(2 * number) if (b * b + measure) % (4 * number) == 0])

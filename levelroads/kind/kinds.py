@@ -1,7 +1,8 @@
 """The kinds into which the staying half of a space falls, and what the doings do on each of them."""
 
-from math import gcd, lcm
+from math import lcm
 
+from levelroads.base.numbers import check_proper, is_prime
 from levelroads.base.polys import poly_factors
 from levelroads.base.tables import divided_row, kernel_of, multiples_in, polynomial_of, table_product, whole_row
 from levelroads.doing.doings import check_doing, doing_images, is_staying, staying_rows, table_on
@@ -9,8 +10,6 @@ from levelroads.errors import InvalidOperation
 from levelroads.symbol.symbols import Sum, check_space, check_sum
 
 MAX_PARTING = 17
-
-_PARTING_PRIMES = (2, 3, 5, 7, 11, 13, 17)
 
 
 def doing_polynomial(space, number):
@@ -29,13 +28,14 @@ def kinds(space):
     """The tuple of all kinds of the level of a space, in order."""
     check_space(space)
     rows = staying_rows(space)
-    primes = [prime for prime in _PARTING_PRIMES if space.level % prime]
+    primes = [prime for prime in range(2, MAX_PARTING + 1) if is_prime(prime) and space.level % prime]
     images = [doing_images(space, prime, rows) for prime in primes]
     found = []
     for part, degree in _parted(rows, images):
         polynomials = tuple([_polynomial_on(part, some) for some in images])
         found.append((len(part), polynomials, Kind(space, part, degree)))
-    return tuple([told[2] for told in sorted(found, key=lambda told: (told[0], told[1]))])
+    ordered = sorted(found, key=lambda row: (row[0], row[1]))
+    return tuple([told[2] for told in ordered])
 
 
 def _parted(rows, images):
@@ -144,8 +144,7 @@ class Kind:
 
     def _check_proper(self, number):
         check_doing(number)
-        if gcd(number, self._space.level) > 1:
-            raise InvalidOperation("the number has no common divisor with the level")
+        check_proper(self._space.level, number)
 
     def __contains__(self, x):
         return isinstance(x, Sum) and x.level == self.level and _is_mix(self._rows, x.row)

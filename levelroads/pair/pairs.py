@@ -2,8 +2,9 @@
 
 from math import gcd
 
-from levelroads.base.numbers import check_level, check_matrix, divisors, inverse_modulo, is_integer, prime_powers
-from levelroads.errors import InvalidCount, InvalidOperation, InvalidPair
+from levelroads.base.numbers import check_bounded, check_integers, check_level, check_matrix, check_proper
+from levelroads.base.numbers import divisors, inverse_modulo, is_integer, prime_powers
+from levelroads.errors import InvalidOperation, InvalidPair
 
 MAX_LEVEL = 100
 
@@ -40,9 +41,7 @@ def check_pair(level, pair):
 def pair_of(level, c, d):
     """The pair that two integers tell."""
     check_level(level)
-    for number in (c, d):
-        if not is_integer(number):
-            raise InvalidCount(number)
+    check_integers((c, d))
     pair = least_pair(level, c, d)
     if pair is None:
         raise InvalidOperation("two integers with a common divisor with the level tell no pair")
@@ -86,8 +85,7 @@ def pair_number(level, pair):
 def pair_at(level, number):
     """The pair with an index in the ascending sequence of all pairs."""
     check_level(level)
-    if not is_integer(number) or not 0 <= number < count_pairs(level):
-        raise InvalidCount(number)
+    check_bounded(number, 0, count_pairs(level) - 1)
     return _all_pairs(level)[number]
 
 
@@ -108,8 +106,7 @@ def orbit_of(level, pair, matrix):
     """The tuple of pairs, from a pair on, in which the matrix leads each one to the next one."""
     check_pair(level, pair)
     check_matrix(matrix)
-    if gcd(matrix[0] * matrix[3] - matrix[1] * matrix[2], level) > 1:
-        raise InvalidOperation("the determinant has no common divisor with the level")
+    check_proper(level, matrix[0] * matrix[3] - matrix[1] * matrix[2])
     orbit = [pair]
     following = _led(level, pair, matrix)
     while following != pair:

@@ -2,10 +2,10 @@
 
 from math import isqrt, lcm
 
-from levelroads.base.numbers import is_integer, is_prime, roots_modulo
+from levelroads.base.numbers import check_bounded, is_integer, is_prime, roots_modulo
 from levelroads.base.ratios import Ratio
-from levelroads.base.tables import divided_row, whole_row
-from levelroads.errors import InvalidCount, InvalidElement, InvalidOperation, InvalidPrime
+from levelroads.base.tables import divided_row, mixed_row, whole_row
+from levelroads.errors import InvalidElement, InvalidOperation, InvalidPrime
 
 MAX_PRIME = 97
 MAX_NORM = 400
@@ -22,11 +22,6 @@ def check_element(value):
     """Refuse what is no tuple of four integers."""
     if not isinstance(value, tuple) or len(value) != 4 or not all([is_integer(entry) for entry in value]):
         raise InvalidElement("an element is a tuple of four integers")
-
-
-def _check_bounded(number, most):
-    if not is_integer(number) or not 0 <= number <= most:
-        raise InvalidCount(number)
 
 
 def least_modulus(prime):
@@ -83,14 +78,9 @@ def _quaternion_product(squares, one, other):
             a * w + d * x + b * z - c * y)
 
 
-def _mixed(multiples, rows):
-    """The sum of some rows of integers, each one multiplied by an integer."""
-    return [sum([many * entry for many, entry in zip(multiples, column)]) for column in zip(*rows)]
-
-
 def _element_of(tops, bottom, units):
     """The element that stands for a quaternion, of integers over another one, or None."""
-    row = _mixed(tops, units)
+    row = mixed_row(tops, units, 4)
     if any([entry % bottom for entry in row]):
         return None
     return tuple([entry // bottom for entry in row])
@@ -160,7 +150,7 @@ class Order:
         return self._times(x, y)
 
     def _times(self, x, y):
-        return tuple(_mixed(x, [_mixed(y, row) for row in self._products]))
+        return tuple(mixed_row(x, [mixed_row(y, row, 4) for row in self._products], 4))
 
     def conjugated(self, x):
         """The conjugate of an element."""
@@ -191,12 +181,12 @@ class Order:
         return self._pairing(x, y)
 
     def _pairing(self, x, y):
-        return sum([entry * other for entry, other in zip(y, _mixed(x, self._pairings))])
+        return sum([entry * other for entry, other in zip(y, mixed_row(x, self._pairings, 4))])
 
     def raised(self, x, many):
         """An element multiplied by itself so many times."""
         check_element(x)
-        _check_bounded(many, MAX_POWER)
+        check_bounded(many, 0, MAX_POWER)
         power = self.one
         for _ in range(many):
             power = self._times(power, x)
@@ -205,7 +195,7 @@ class Order:
     def quaternion_of(self, x):
         """The quaternion of an element, a tuple of four ratios."""
         check_element(x)
-        return divided_row(_mixed(x, self._tops), self._bottom)
+        return divided_row(mixed_row(x, self._tops, 4), self._bottom)
 
     def element_at(self, row):
         """The element that stands for a quaternion."""
@@ -219,7 +209,7 @@ class Order:
 
     def elements_of(self, number):
         """The ascending tuple of all elements of a norm."""
-        _check_bounded(number, MAX_NORM)
+        check_bounded(number, 0, MAX_NORM)
         return _all_of_norm(self._pairings, number)
 
     def quotient(self, x, y):

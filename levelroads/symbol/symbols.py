@@ -3,8 +3,8 @@
 from levelroads.base.numbers import check_level, is_integer
 from levelroads.base.ratios import Ratio, exact_ratio
 from levelroads.base.tables import divided_row, kernel_of, whole_row
-from levelroads.errors import InvalidCount, InvalidOperation, InvalidSum, InvalidTable
-from levelroads.pair.pairs import check_pair, least_pair, pairs
+from levelroads.errors import InvalidOperation, InvalidSum, InvalidTable
+from levelroads.pair.pairs import check_pair, least_pair, pair_of, pairs
 from levelroads.rim.groups import told_matrix
 from levelroads.rim.rims import check_fraction, led_fraction, rim_of, rims
 from levelroads.symbol.flows import basis_and_images, pair_numbers
@@ -124,13 +124,7 @@ class Space:
 
     def symbol(self, c, d):
         """The symbol of the pair that two integers tell."""
-        for number in (c, d):
-            if not is_integer(number):
-                raise InvalidCount(number)
-        pair = least_pair(self._level, c, d)
-        if pair is None:
-            raise InvalidOperation("two integers with a common divisor with the level tell no pair")
-        return self.sum_of_counts(self.counts_of([pair]))
+        return self.sum_of_counts(self.counts_of([pair_of(self._level, c, d)]))
 
     def path(self, one, other):
         """The path from one fraction to another one."""

@@ -2,36 +2,25 @@
 
 from math import gcd, isqrt
 
-from levelroads.base.numbers import (
-    check_level, count_units, divisor_sum, divisors, is_integer, prime_powers, roots_modulo,
-)
+from levelroads.base.numbers import check_bounded, check_level, check_proper
+from levelroads.base.numbers import count_units, divisor_sum, divisors, is_integer, prime_powers, roots_modulo
 from levelroads.base.ratios import Ratio, exact_ratio
-from levelroads.errors import InvalidCount, InvalidOperation
+from levelroads.errors import InvalidCount
 from levelroads.form.binary import weighted_number
 from levelroads.pair.pairs import count_pairs
 
 MAX_TRACED = 200
 
 
-def _check_traced(number):
-    if not is_integer(number) or not 1 <= number <= MAX_TRACED:
-        raise InvalidCount(number)
-
-
-def _check_proper(level, number):
-    if gcd(level, number) > 1:
-        raise InvalidOperation("the number has no common divisor with the level")
-
-
 def _check_both(level, number):
     check_level(level)
-    _check_traced(number)
-    _check_proper(level, number)
+    check_bounded(number, 1, MAX_TRACED)
+    check_proper(level, number)
 
 
 def pairs_met(number):
     """The ascending tuple of the triples (t, f, measure met) of all pairs met by a number."""
-    _check_traced(number)
+    check_bounded(number, 1, MAX_TRACED)
     return _pairs_met(number)
 
 
@@ -53,12 +42,12 @@ def _is_met(number, t, f):
 def times_of(level, number, t, f):
     """The times of a pair met by a number."""
     check_level(level)
-    _check_traced(number)
+    check_bounded(number, 1, MAX_TRACED)
     if not is_integer(t) or t * t >= 4 * number:
         raise InvalidCount(t)
     if not is_integer(f) or f < 1 or not _is_met(number, t, f):
         raise InvalidCount(f)
-    _check_proper(level, number)
+    check_proper(level, number)
     return _times(level, number, t, f)
 
 
