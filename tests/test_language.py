@@ -23,6 +23,8 @@ TAKERS = {"list", "tuple", "dict", "sorted", "sum", "any", "all", "enumerate", "
 BARRED = set(
     "register mro elements open input law version_info with_traceback add_note type typing enum Generic Protocol ABC "
     "namedtuple NamedTuple dataclass overload contextmanager eval exec globals locals vars".split())
+CHANGES = {"append", "clear", "extend", "insert", "pop", "remove", "reverse", "setdefault", "update", "sort"}
+CHANGING = {"__init__", "__enter__", "__exit__"}
 SPECIAL = {"__init__", "__eq__", "__str__", "__len__", "__iter__", "__contains__", "__enter__", "__exit__"}
 
 
@@ -37,6 +39,88 @@ def told_names(tree):
         elif isinstance(node, ast.Assign):
             bound.extend(target.id for target in node.targets)
     return bound
+
+
+def names_of(node):
+    """The names of the lists for which an expression may stand itself."""
+    if isinstance(node, ast.Name):
+        return {node.id}
+    if isinstance(node, ast.IfExp):
+        return names_of(node.body) | names_of(node.orelse)
+    if isinstance(node, ast.BoolOp):
+        return {name for part in node.values for name in names_of(part)}
+    if isinstance(node, (ast.Subscript, ast.Attribute)):
+        return names_of(node.value)
+    return set()
+
+
+def walked_names(node):
+    if isinstance(node, ast.Call) and getattr(node.func, "id", "") in ("zip", "enumerate", "reversed"):
+        return {name for part in node.args for name in names_of(part)}
+    if isinstance(node, ast.Call) and getattr(node.func, "attr", "") in ("items", "keys", "values"):
+        return names_of(node.func.value)
+    return names_of(node)
+
+
+def changed_names(node):
+    """The names of the lists that a part of a function changes, themselves or inside."""
+    found = set()
+    for one in ast.walk(node):
+        if isinstance(one, ast.Call) and getattr(one.func, "attr", "") in CHANGES:
+            found |= names_of(one.func.value)
+        if isinstance(one, ast.Subscript) and not isinstance(one.ctx, ast.Load):
+            found |= names_of(one.value)
+        if isinstance(one, ast.AugAssign):
+            found |= names_of(one.target)
+    return found
+
+
+def shared_names(function):
+    """For each name all names that may stand for the same list, by plain assignments."""
+    same = {}
+    for node in ast.walk(function):
+        if isinstance(node, ast.Assign):
+            pairs = [(target, node.value) for target in node.targets]
+            for target, value in list(pairs):
+                if isinstance(target, ast.Tuple) and isinstance(value, ast.Tuple):
+                    pairs += zip(target.elts, value.elts)
+            for target, value in pairs:
+                if isinstance(value, (ast.Name, ast.IfExp, ast.BoolOp)):
+                    group = names_of(target) | names_of(value)
+                    for name in list(group):
+                        group |= same.get(name, set())
+                    for name in group:
+                        same[name] = group
+    return same
+
+
+def made_names(function):
+    """The local names of a function that are only ever assigned a list or a dict that it makes."""
+    made, other = set(), {one.arg for one in ast.walk(function) if isinstance(one, ast.arg)}
+    for node in ast.walk(function):
+        if isinstance(node, ast.Assign):
+            for target in node.targets:
+                if isinstance(target, ast.Name):
+                    (made if makes_list(node.value) else other).add(target.id)
+                elif isinstance(target, ast.Tuple):
+                    other |= names_of(target) | {one.id for one in ast.walk(target) if isinstance(one, ast.Name)}
+        elif isinstance(node, (ast.For, ast.comprehension)):
+            other |= {one.id for one in ast.walk(node.target) if isinstance(one, ast.Name)}
+    return made - other
+
+
+def makes_list(node):
+    if isinstance(node, ast.BinOp):
+        return isinstance(node.op, (ast.Add, ast.Mult)) and (makes_list(node.left) or makes_list(node.right))
+    if isinstance(node, ast.Call):
+        return getattr(node.func, "id", "") in ("list", "dict", "sorted")
+    return isinstance(node, (ast.List, ast.Dict, ast.ListComp, ast.DictComp))
+
+
+def is_made(node, made):
+    if isinstance(node, ast.Name):
+        return node.id in made
+    return isinstance(node, ast.Constant) or (isinstance(node, ast.Call) and getattr(node.func, "id", "") == "str")
 
 
 class Language(unittest.TestCase):
@@ -207,6 +291,58 @@ class Language(unittest.TestCase):
                             self.assertIsInstance(one.ctx, ast.Load)
                         if node.name != "__init__":
                             self.assertNotIsInstance(one, ast.AugAssign)
+
+    def test_not_changed_while_walked(self):
+        """L23: what a loop walks is changed in it by no name that may stand for it."""
+        for _, tree in self.each():
+            for function in ast.walk(tree):
+                if isinstance(function, ast.FunctionDef):
+                    same = shared_names(function)
+                    for node in ast.walk(function):
+                        if isinstance(node, ast.For):
+                            walked = walked_names(node.iter)
+                            changed = {name for part in node.body for name in changed_names(part)}
+                        elif isinstance(node, (ast.ListComp, ast.DictComp, ast.SetComp)):
+                            walked = {name for part in node.generators for name in walked_names(part.iter)}
+                            changed = changed_names(node)
+                        else:
+                            continue
+                        for name in walked:
+                            self.assertFalse(changed & same.get(name, {name}), (function.name, name, node.lineno))
+
+    def test_what_operators_call(self):
+        """L5, L28: what operators and properties run calls methods of what it made itself alone, and changes no other.
+        """
+        functions = {}
+        for _, tree in self.each():
+            for node in tree.body:
+                if isinstance(node, ast.FunctionDef):
+                    functions.setdefault(node.name, []).append(node)
+        for function in self.run_by_operators(functions):
+            made = made_names(function)
+            for node in ast.walk(function):
+                self.assertNotIsInstance(node, ast.Delete)
+                if isinstance(node, ast.Call) and isinstance(node.func, ast.Attribute):
+                    self.assertTrue(is_made(node.func.value, made), (function.name, node.lineno))
+                if isinstance(node, (ast.Subscript, ast.Attribute)) and not isinstance(node.ctx, ast.Load):
+                    self.assertTrue(is_made(node.value, made), (function.name, node.lineno))
+                if isinstance(node, ast.AugAssign) and isinstance(node.target, ast.Name):
+                    self.assertIsInstance(node.value, ast.Constant, (function.name, node.lineno))
+
+    def run_by_operators(self, functions):
+        """All operators and properties, and the functions that they call, by whatever way."""
+        found = []
+        for _, tree in self.each():
+            for node in ast.walk(tree):
+                if isinstance(node, ast.FunctionDef) and isinstance(node.parent, ast.ClassDef):
+                    is_operator = node.name.startswith("__") and node.name not in CHANGING
+                    if is_operator or [one for one in node.decorator_list if one.id == "property"]:
+                        found.append(node)
+        for function in found:
+            for node in ast.walk(function):
+                if isinstance(node, ast.Call) and isinstance(node.func, ast.Name):
+                    found.extend(one for one in functions.get(node.func.id, ()) if one not in found)
+        return found
 
     def test_iterated_at_once(self):
         for _, tree in self.each():

@@ -1,5 +1,6 @@
 """The doings on sums of paths, turning and exchanging, and their tables on the parts of a space."""
 
+from levelroads.base.mixes import lead_places
 from levelroads.base.numbers import check_bounded
 from levelroads.base.ratios import Ratio
 from levelroads.base.tables import divided_row, kernel_of, mixed_row, whole_row
@@ -94,8 +95,7 @@ def _led_sum(told, images):
 
 def table_on(rows, images):
     """The table of what happens to the rows of an echelon, which are led to mixes of them."""
-    # The first 1 of a row of an echelon is alone in its column: there a mix has its multiple of this row.
-    leads = [[place for place, entry in enumerate(row) if entry.top][0] for row in rows]
+    leads = lead_places(rows)
     table = []
     for row in rows:
         entries, times = whole_row(row)

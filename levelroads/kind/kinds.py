@@ -1,10 +1,9 @@
 """The kinds into which the staying half of a space falls, and what the doings do on each of them."""
 
-from math import lcm
-
+from levelroads.base.mixes import common_bottom, is_mix
 from levelroads.base.numbers import check_proper, is_prime
 from levelroads.base.polys import poly_factors
-from levelroads.base.tables import divided_row, kernel_of, multiples_in, polynomial_of, table_product, whole_row
+from levelroads.base.tables import divided_row, kernel_of, multiples_in, polynomial_of, table_product
 from levelroads.doing.doings import check_doing, doing_images, is_staying, staying_rows, table_on
 from levelroads.errors import InvalidOperation
 from levelroads.symbol.symbols import Sum, check_space, check_sum
@@ -67,10 +66,7 @@ def _pieces(part, degree, images):
 
 def _value_at(poly, table):
     """What a polynomial becomes if a table is put for X, multiplied by an integer that makes all entries integers."""
-    times = 1
-    for row in table:
-        for entry in row:
-            times = lcm(times, entry.bottom)
+    times = common_bottom(table)
     rows = [[entry.top * (times // entry.bottom) for entry in row] for row in table]
     columns = list(zip(*rows))
     value = _diagonal(len(rows), poly[-1])
@@ -147,7 +143,7 @@ class Kind:
         check_proper(self._space.level, number)
 
     def __contains__(self, x):
-        return isinstance(x, Sum) and x.level == self.level and _is_mix(self._rows, x.row)
+        return isinstance(x, Sum) and x.level == self.level and is_mix(self._rows, x.row)
 
     def __len__(self):
         return len(self._rows)
@@ -157,17 +153,6 @@ class Kind:
 
     def __str__(self):
         return f"kind of {len(self._rows)} at {self.level}"
-
-
-def _is_mix(rows, row):
-    """Whether a row is a mix of the rows of an echelon."""
-    rest, _ = whole_row(row)
-    for one in rows:
-        # The first integer other than 0, of a 1 that is alone in its column, is the one by which all are multiplied.
-        parts, times = whole_row(one)
-        many = rest[parts.index(times)]
-        rest = [times * entry - many * part for entry, part in zip(rest, parts)]
-    return not any(rest)
 
 
 def is_kind_table(space, value):
