@@ -114,6 +114,8 @@ def makes_list(node):
         return isinstance(node.op, (ast.Add, ast.Mult)) and (makes_list(node.left) or makes_list(node.right))
     if isinstance(node, ast.Call):
         return getattr(node.func, "id", "") in ("list", "dict", "sorted")
+    if isinstance(node, ast.Subscript):
+        return isinstance(node.slice, ast.Slice)
     return isinstance(node, (ast.List, ast.Dict, ast.ListComp, ast.DictComp))
 
 
@@ -279,7 +281,7 @@ class Language(unittest.TestCase):
                 if isinstance(node, ast.Name) and node.id == "iter":
                     above = node.parent.parent.parent
                     self.assertEqual(above.name, "__iter__")
-                    self.assertRegex(ast.unparse(above.body), r"\Areturn iter\(self\.[a-z_]+\)\Z")
+                    self.assertRegex(ast.unparse(above.body), r"\Areturn iter\(self(\.[a-z_]+){1,2}\)\Z")
 
     def test_what_changes_nothing(self):
         """Operators, properties and the like assign to plain local variables alone."""
@@ -287,10 +289,31 @@ class Language(unittest.TestCase):
             for node in ast.walk(tree):
                 if isinstance(node, ast.FunctionDef) and (node.decorator_list or node.name.startswith("__")):
                     for one in ast.walk(node):
-                        if node.name != "__init__" and isinstance(one, (ast.Attribute, ast.Subscript)):
+                        if node.name not in CHANGING and isinstance(one, (ast.Attribute, ast.Subscript)):
                             self.assertIsInstance(one.ctx, ast.Load)
-                        if node.name != "__init__":
+                        if node.name not in CHANGING:
                             self.assertNotIsInstance(one, ast.AugAssign)
+
+    def test_properties_and_attributes(self):
+        """L5, L18, L26: no attribute has the name of a property or of a method that changes a value."""
+        properties, stored = set(), set()
+        for _, tree in self.each():
+            for node in ast.walk(tree):
+                if isinstance(node, ast.FunctionDef) and [one for one in node.decorator_list if one.id == "property"]:
+                    properties.add(node.name)
+                if isinstance(node, ast.Attribute) and isinstance(node.ctx, ast.Store):
+                    self.assertIsInstance(node.value, ast.Name)
+                    stored.add(node.attr)
+        self.assertFalse(stored & (properties | CHANGES | {"items", "keys", "values", "args"}))
+
+    def test_leaving_a_block(self):
+        """L6: what `__exit__` may have."""
+        for _, tree in self.each():
+            for node in ast.walk(tree):
+                if isinstance(node, ast.FunctionDef) and node.name == "__exit__":
+                    self.assertEqual([one.arg for one in node.args.args], ["self", "kind", "value", "trace"])
+                    for row in node.body:
+                        self.assertRegex(ast.unparse(row), r"\A[a-z]+(\._[a-z]+)? = self\._[a-z]+\Z")
 
     def test_not_changed_while_walked(self):
         """L23: what a loop walks is changed in it by no name that may stand for it."""

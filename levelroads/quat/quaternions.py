@@ -1,11 +1,10 @@
 """The order of quaternions that belongs to a prime, and what its elements are multiplied and measured by."""
 
-from math import isqrt, lcm
-
 from levelroads.base.numbers import check_bounded, is_integer, is_prime, roots_modulo
 from levelroads.base.ratios import Ratio
 from levelroads.base.tables import divided_row, mixed_row, whole_row
 from levelroads.errors import InvalidElement, InvalidOperation, InvalidPrime
+from levelroads.quat.lattices import all_of_norm
 
 MAX_PRIME = 97
 MAX_NORM = 400
@@ -18,9 +17,14 @@ def check_prime(prime):
         raise InvalidPrime("a prime is a prime number from 2 to 97")
 
 
+def is_element(value):
+    """Whether a value is a tuple of four integers."""
+    return isinstance(value, tuple) and len(value) == 4 and all([is_integer(entry) for entry in value])
+
+
 def check_element(value):
     """Refuse what is no tuple of four integers."""
-    if not isinstance(value, tuple) or len(value) != 4 or not all([is_integer(entry) for entry in value]):
+    if not is_element(value):
         raise InvalidElement("an element is a tuple of four integers")
 
 
@@ -210,7 +214,7 @@ class Order:
     def elements_of(self, number):
         """The ascending tuple of all elements of a norm."""
         check_bounded(number, 0, MAX_NORM)
-        return _all_of_norm(self._pairings, number)
+        return all_of_norm(self._pairings, number)
 
     def quotient(self, x, y):
         """The element by which another one is multiplied, from the left, to be the first one, or None."""
@@ -229,54 +233,3 @@ class Order:
 
     def __str__(self):
         return f"order of {self._prime}"
-
-
-# Twice the norm of an element x is the sum of weight * L * L / D over four sums L of multiples of the integers of x,
-# of which each one leaves out one integer more: only a few integers make the last one small, to begin with.
-
-
-def _all_of_norm(pairings, number):
-    steps, total = _steps_of(pairings)
-    layer = [((), 2 * number * total)]
-    for row, weight in steps[:0:-1]:
-        layer = [longer for tail, rest in layer for longer in _longer(row, weight, tail, rest)]
-    row, weight = steps[0]
-    return tuple(sorted([found for tail, rest in layer for found in _ended(row, weight, tail, rest)]))
-
-
-def _steps_of(pairings):
-    """The rows of the sums L with their weights, and D; all of them are integers."""
-    rest = pairings
-    last = 1
-    rows = []
-    while rest:
-        lead = rest[0]
-        rows.append((lead, last * lead[0]))
-        rest = [[(lead[0] * entry - row[0] * other) // last for entry, other in zip(row[1:], lead[1:])]
-                for row in rest[1:]]
-        last = lead[0]
-    total = 1
-    for _, part in rows:
-        total = lcm(total, part)
-    return [(row, total // part) for row, part in rows], total
-
-
-def _longer(row, weight, tail, rest):
-    """All that come from the last integers of an element with one integer ahead of them, with what is left."""
-    lead, shift = row[0], sum([many * entry for many, entry in zip(row[1:], tail)])
-    most = isqrt(rest // weight)
-    found = []
-    for entry in range(-((most + shift) // lead), (most - shift) // lead + 1):
-        value = lead * entry + shift
-        found.append(((entry,) + tail, rest - weight * value * value))
-    return found
-
-
-def _ended(row, weight, tail, rest):
-    """All elements that come from their last three integers, with nothing left."""
-    lead, shift = row[0], sum([many * entry for many, entry in zip(row[1:], tail)])
-    root = isqrt(rest // weight)
-    if weight * root * root != rest:
-        return []
-    values = [root, -root] if root else [0]
-    return [((value - shift) // lead,) + tail for value in values if (value - shift) % lead == 0]

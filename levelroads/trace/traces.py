@@ -105,10 +105,10 @@ def dimension_of(level):
 def new_trace(level, number):
     """The new trace of T_n, n being the number, at a level."""
     _check_both(level, number)
-    return sum([_newness(level // below) * _trace(below, number) for below in divisors(level)])
+    return sum([newness(level // below) * _trace(below, number) for below in divisors(level)])
 
 
-def _newness(quotient):
+def newness(quotient):
     """The integer b of the new traces for the quotient of a level by one of its divisors."""
     product = 1
     for times in prime_powers(quotient).values():

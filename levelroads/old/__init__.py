@@ -1,0 +1,1 @@
+"""What a level has from the levels that divide it, and what is new."""

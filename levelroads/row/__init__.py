@@ -1,0 +1,1 @@
+"""Rows: power series in q, and those that the doings tell."""

@@ -1,0 +1,1 @@
+"""A bench on which sums of paths are kept and changed."""
