@@ -565,6 +565,22 @@ class Neighbours(Case):
         self.refused_with(TooMany, "limit", 10000, neighbours, ELEVEN.multiplied(100), 2)
 
 
+    def test_reached(self):
+        """[11.6]: each class is reached from the whole lot, by whatever prime."""
+        for prime, side in ((11, 3), (11, 13), (23, 5), (37, 3), (53, 2), (67, 7), (89, 3), (97, 5)):
+            full = FULL[prime]
+            met = {class_of(full, WHOLE[prime])}
+            layer = [WHOLE[prime]]
+            while layer:
+                reached = []
+                for near in [near for lot in layer for near in neighbours(lot, side)]:
+                    if class_of(full, near) not in met:
+                        met.add(class_of(full, near))
+                        reached.append(near)
+                layer = reached
+            self.assertEqual(met, set(range(len(full))))
+
+
 class Classes(Case):
     def test_lots(self):
         """[11.7]"""
