@@ -352,6 +352,19 @@ class Language(unittest.TestCase):
                 if isinstance(node, ast.AugAssign) and isinstance(node.target, ast.Name):
                     self.assertIsInstance(node.value, ast.Constant, (function.name, node.lineno))
 
+    def test_what_they_assign_and_return(self):
+        """L28: what `__eq__`, `__str__` and `__len__` assign, and what the last two return."""
+        for _, tree in self.each():
+            for node in ast.walk(tree):
+                if isinstance(node, ast.FunctionDef) and node.name in ("__eq__", "__str__", "__len__"):
+                    for one in ast.walk(node):
+                        if isinstance(one, ast.Assign):
+                            self.assertTrue(makes_list(one.value))
+                        if isinstance(one, ast.Return) and node.name == "__len__":
+                            self.assertEqual(one.value.func.id, "len")
+                        if isinstance(one, ast.Return) and node.name == "__str__":
+                            self.assertRegex(ast.unparse(one.value), r"""\A(f?['"]|str\()""")
+
     def run_by_operators(self, functions):
         """All operators and properties, and the functions that they call, by whatever way."""
         found = []

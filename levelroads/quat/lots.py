@@ -187,8 +187,11 @@ class Lot:
         return isinstance(other, Lot) and self.prime == other.prime and self._rows == other.rows
 
     def __str__(self):
-        rows = "/".join([" ".join([str(entry) for entry in row]) for row in self._rows])
-        return f"{rows} over {self.prime}"
+        return f"{_text_of(self._rows)} over {self.prime}"
+
+
+def _text_of(rows):
+    return "/".join([" ".join([str(entry) for entry in row]) for row in rows])
 
 
 def _is_whole_element(value):

@@ -81,17 +81,14 @@ def _hung_up(tree, opposite, places, many):
         ways[places[opposite[index]]].append(opposite[index])
     upward = [None] * many
     depth = [0] * many
-    reached = [0]
-    at = 0
-    while at < len(reached):
-        place = reached[at]
-        for way in ways[place]:
-            if way != upward[place]:
-                below = places[opposite[way]]
-                upward[below] = opposite[way]
-                depth[below] = depth[place] + 1
-                reached.append(below)
-        at = at + 1
+    layer = [0]
+    while layer:
+        steps = [(place, way) for place in layer for way in ways[place] if way != upward[place]]
+        for place, way in steps:
+            below = places[opposite[way]]
+            upward[below] = opposite[way]
+            depth[below] = depth[place] + 1
+        layer = [places[opposite[way]] for _, way in steps]
     return upward, depth
 
 
