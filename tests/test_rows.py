@@ -261,7 +261,7 @@ class Products(Case):
                 self.refused_with(InvalidCount, "value", value, call, value)
             self.refused_with(InvalidCount, "value", value, eta_product, {1: 2, 11: 2}, value)
         for value in tuple(value for value in NO_INTEGERS if value != {}) + (
-                0, {0: 24}, {401: 24}, {-1: -24}, {1: 25}, {1: -24}, {24: 0}, {1: 0}, {1: 1}, {1: 23}, {25: -1, 1: 1},
+                0, {0: 24}, {401: 24}, {408: 1}, {-1: -24}, {1: 25}, {24: 25}, {48: 25, 24: -25}, {96: 1, 1: -96}, {1: -24}, {24: 0}, {1: 0}, {1: 1}, {1: 23}, {25: -1, 1: 1},
                 {True: 24}, {24: True}, {"1": 24}, {1: "24"}, {1: None}, {(1,): 24}, {24: Ratio(1)}, {SIXTY: 24},
                 {24: SIXTY_ONE}, {1: 24, 2: 0}, [(1, 24)], ((1, 24),), {k: 24 for k in range(1, 12)}, SOME,
                 {1: 24, None: 1}, {1: [24]}, {2: 24, 1: False}):

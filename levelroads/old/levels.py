@@ -63,7 +63,6 @@ def _new_dimension(level):
 
 def old_dimension(level):
     """The genus of a level, less the new dimension."""
-    check_level(level)
     return genus(level) - _new_dimension(level)
 
 
@@ -96,7 +95,6 @@ def _all_lowered(space, rows):
 
 def is_new(told):
     """Whether a sum is a staying one that all lowerings to lesser levels lead to zero."""
-    check_sum(told)
     return is_staying(told) and not any([entry.top for entry in _all_lowered(told.space, (told.row,))[0]])
 
 

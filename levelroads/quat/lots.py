@@ -2,7 +2,7 @@
 
 from math import isqrt
 
-from levelroads.base.numbers import check_bounded, is_whole, prime_powers
+from levelroads.base.numbers import check_bounded, is_prime, is_whole, prime_powers
 from levelroads.errors import InvalidCount, InvalidElement, InvalidLot, InvalidOperation, TooMany
 from levelroads.quat.lattices import all_of_norm, combined, dot, is_within, short_rows, triangle_of
 from levelroads.quat.quaternions import Order, check_element, check_prime, is_element
@@ -15,7 +15,6 @@ MAX_LISTED = 60
 _MAX_TOLD = 64
 _MAX_BEHIND = 8
 _MAX_TIMES = 100
-_SIDES = (2, 3, 5, 7, 11, 13)
 _WHOLE = ((1, 0, 0, 0), (0, 1, 0, 0), (0, 0, 1, 0), (0, 0, 0, 1))
 
 
@@ -125,7 +124,6 @@ class Lot:
     """A lot of a prime. It never changes."""
 
     def __init__(self, prime, rows):
-        check_prime(prime)
         self._order = Order(prime)
         if not _are_rows(self._order, rows):
             raise InvalidLot("the rows are the least rows of a lot")
@@ -284,22 +282,20 @@ def _points(prime):
 def neighbours(lot, number):
     """The ascending tuple of all neighbours of a lot by a prime."""
     check_lot(lot)
-    check_bounded(number, 2, MAX_SIDES)
-    if number not in _SIDES or number == lot.prime:
+    if not is_prime(number) or number > MAX_SIDES or number == lot.prime:
         raise InvalidCount(number)
-    _check_size(number * lot.size)
     return tuple([Lot(lot.prime, rows) for rows in _rows_within(Order(lot.prime), lot.rows, number)])
 
 
 def lots(prime):
     """A tuple of lots of a prime with one lot of each class."""
-    check_prime(prime)
     order = Order(prime)
     most = genus(prime) + 1
     found = [_WHOLE]
     at = 0
     while len(found) < most:
-        near = _rows_within(order, found[at], 3 if prime == 2 else 2)
+        # The lots of the prime 2 are one class alone: there no neighbours are asked.
+        near = _rows_within(order, found[at], 2)
         for rows in near:
             if not _is_met(order, found, rows):
                 found.append(rows)

@@ -1,7 +1,7 @@
 """Rows of a level: what the doings have, one behind the other, at each place of their tables."""
 
 from levelroads.base.mixes import is_mix, lead_places
-from levelroads.base.numbers import check_bounded, check_level, is_prime
+from levelroads.base.numbers import check_bounded
 from levelroads.base.ratios import Ratio
 from levelroads.base.tables import echelon, table_product
 from levelroads.doing.doings import doing_images, staying_rows, table_on
@@ -14,7 +14,6 @@ MAX_TERMS = 60
 
 def form_bound(level):
     """The number of entries by which rows of a level are told apart."""
-    check_level(level)
     return count_pairs(level) // 6
 
 

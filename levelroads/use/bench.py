@@ -1,7 +1,7 @@
 """A bench: sums of one level under names, pledges that are kept, and changes that can be taken back."""
 
-from levelroads.base.numbers import check_bounded, check_integers, check_level, is_integer, is_name
-from levelroads.doing.doings import MAX_DOING, check_doing, done, is_staying, turned
+from levelroads.base.numbers import check_integers, is_integer, is_name
+from levelroads.doing.doings import MAX_DOING, done, is_staying, turned
 from levelroads.errors import InvalidCount, InvalidOperation, NothingToUndo, Refused, TooMany, UnknownName
 from levelroads.symbol.symbols import Space, check_sum
 
@@ -81,7 +81,6 @@ class Bench:
     """A bench of a level."""
 
     def __init__(self, level):
-        check_level(level)
         self._space = Space(level)
         self._setup = Setup(level, {}, ())
         # The setups ahead of this one and behind it. Trials and twins keep these lists: so they are never changed, but
@@ -136,9 +135,7 @@ class Bench:
 
     def do(self, name, number):
         """Put what T_n, n being the number, makes of a sum in its place."""
-        told = self.sum_named(name)
-        check_doing(number)
-        return self._with_sum(name, done(told, number))
+        return self._with_sum(name, done(self.sum_named(name), number))
 
     def turn(self, name):
         """Put the turned sum in the place of a sum."""
