@@ -178,6 +178,21 @@ class Language(unittest.TestCase):
             defined = [one for one in ast.parse(path.read_text()).body if not isinstance(one, ast.ImportFrom)]
             self.assertLessEqual(names, set(told_names(ast.Module(defined, []))))
 
+    def test_no_rings(self):
+        """L16: no two files import from each other, directly or through others; and what is imported is used."""
+        after = {}
+        for path in FILES:
+            tree = ast.parse(path.read_text())
+            imports = [node for node in tree.body if isinstance(node, ast.ImportFrom)]
+            after[".".join(path.relative_to(PACKAGE.parent).with_suffix("").parts)] = {
+                node.module for node in imports if node.module not in LIBRARY}
+            used = {node.id for node in ast.walk(tree) if isinstance(node, ast.Name)}
+            self.assertLessEqual({name.name for node in imports for name in node.names}, used)
+        while after:
+            free = {name for name, wanted in after.items() if not wanted & set(after)}
+            self.assertTrue(free, after)
+            after = {name: wanted for name, wanted in after.items() if name not in free}
+
     def test_module_level(self):
         for _, tree in self.each():
             bound = told_names(tree)

@@ -21,10 +21,6 @@ def lowered(told, space, times):
     check_bounded(times, 1, _MAX_TIMES)
     if told.level % space.level or told.level // space.level % times:
         raise InvalidOperation("the level of the space divides that of the sum, and the integer the quotient")
-    return _lowered(told, space, times)
-
-
-def _lowered(told, space, times):
     images = _lowered_images(told.space, space, times, [told.row])
     return space.sum_of(_lowered_row(told.row, images, len(space)))
 

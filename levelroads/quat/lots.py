@@ -289,8 +289,12 @@ def neighbours(lot, number):
 
 def lots(prime):
     """A tuple of lots of a prime with one lot of each class."""
-    order = Order(prime)
-    most = genus(prime) + 1
+    return tuple([Lot(prime, rows) for rows in _rows_of_classes(Order(prime))])
+
+
+def _rows_of_classes(order):
+    """The list of the rows of one lot of each class."""
+    most = genus(order.prime) + 1
     found = [_WHOLE]
     at = 0
     while len(found) < most:
@@ -300,7 +304,7 @@ def lots(prime):
             if not _is_met(order, found, rows):
                 found.append(rows)
         at = at + 1
-    return tuple([Lot(prime, rows) for rows in found])
+    return found
 
 
 def _is_met(order, found, rows):
@@ -316,12 +320,22 @@ def are_lots(prime, value):
     return forms_of_lots(value) is not None and value[0].prime == prime
 
 
-def forms_of_lots(value):
-    """The pairings, divided by both norms, of short rows of the lattices between the lots of a full list.
+# The forms of a full list are, at r and s with s at most r, the pairings, divided by both norms, of short rows of the
+# lattice between its lots r and s.
 
-    At r and s, with s at most r, are those of the lattice between the lots r and s. It is None for all values but full
-    lists.
-    """
+
+def forms_of_classes(prime):
+    """The forms of some full list of a prime."""
+    order = Order(prime)
+    found = _rows_of_classes(order)
+    forms = []
+    for place, rows in enumerate(found):
+        forms.append([_short_between(order, rows, other)[1] for other in found[:place + 1]])
+    return forms
+
+
+def forms_of_lots(value):
+    """The forms of a full list of a prime, or None for all other values."""
     if not isinstance(value, tuple) or not value or not all([isinstance(lot, Lot) for lot in value]):
         return None
     prime = value[0].prime

@@ -5,14 +5,14 @@ from levelroads.base.ratios import Ratio
 from levelroads.base.tables import polynomial_of, table_of
 from levelroads.errors import InvalidLot
 from levelroads.quat.lattices import all_of_norm
-from levelroads.quat.lots import check_lot, forms_of_lots, lots
+from levelroads.quat.lots import check_lot, forms_of_classes, forms_of_lots
 from levelroads.quat.quaternions import check_prime
 
 MAX_TABLED = 60
 
 
-def _checked_forms(told):
-    forms = forms_of_lots(told)
+def _checked_forms(lots):
+    forms = forms_of_lots(lots)
     if forms is None:
         raise InvalidLot("the lots are a full list of a prime number")
     return forms
@@ -37,22 +37,22 @@ def _table(forms, number):
     return tuple(table)
 
 
-def lot_weights(told):
+def lot_weights(lots):
     """The tuple of the numbers of the units of the lots of a full list."""
-    return tuple(_weights(_checked_forms(told)))
+    return tuple(_weights(_checked_forms(lots)))
 
 
-def lots_mass(told):
+def lots_mass(lots):
     """The sum of 1 / (number of units) over the lots of a full list."""
     mass = Ratio(0)
-    for weight in _weights(_checked_forms(told)):
+    for weight in _weights(_checked_forms(lots)):
         mass = mass.plus(Ratio(1, weight))
     return mass
 
 
-def lot_table(told, number):
+def lot_table(lots, number):
     """The table of a number for a full list."""
-    forms = _checked_forms(told)
+    forms = _checked_forms(lots)
     _check_tabled(number)
     return _table(forms, number)
 
@@ -68,13 +68,13 @@ def lot_polynomial(prime, number):
     """The polynomial of the table of a number for any full list of a prime."""
     check_prime(prime)
     _check_tabled(number)
-    table = _table(_checked_forms(lots(prime)), number)
+    table = _table(forms_of_classes(prime), number)
     return tuple([entry.top for entry in polynomial_of(table_of(table))])
 
 
-def are_led(told, one, other, number):
+def are_led(lots, one, other, number):
     """Whether a lot within one of a full list, of its norm times a number, is alike to another one of the list."""
-    forms = _checked_forms(told)
+    forms = _checked_forms(lots)
     check_bounded(one, 0, len(forms) - 1)
     check_bounded(other, 0, len(forms) - 1)
     _check_tabled(number)
