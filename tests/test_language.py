@@ -367,6 +367,33 @@ class Language(unittest.TestCase):
                 if isinstance(node, ast.AugAssign) and isinstance(node.target, ast.Name):
                     self.assertIsInstance(node.value, ast.Constant, (function.name, node.lineno))
 
+    def test_what_lengths_and_texts_call(self):
+        """L28: what `__len__`, `__eq__`, `__str__` and `__repr__` call reads no method or property of any object.
+
+        What bears the name of what is called is asked, too, if it is a method.
+        """
+        functions, members, found = {}, set(), []
+        for _, tree in self.each():
+            for node in ast.walk(tree):
+                if isinstance(node, ast.FunctionDef):
+                    functions.setdefault(node.name, []).append(node)
+                    if isinstance(node.parent, ast.ClassDef):
+                        members.add(node.name)
+        for name in ("__len__", "__eq__", "__str__", "__repr__"):
+            for method in functions.get(name, ()):
+                found.extend(self.called_by(method, functions))
+        self.assertTrue(found)
+        for function in found:
+            for node in ast.walk(function):
+                if isinstance(node, ast.Attribute):
+                    self.assertFalse(node.attr in members, (function.name, node.attr, node.lineno))
+            found.extend(one for one in self.called_by(function, functions) if one not in found)
+
+    def called_by(self, function, functions):
+        calls = [node.func for node in ast.walk(function) if isinstance(node, ast.Call)]
+        names = {getattr(call, "id", getattr(call, "attr", "")) for call in calls}
+        return [one for name in sorted(names) for one in functions.get(name, ())]
+
     def test_what_they_assign_and_return(self):
         """L28: what `__eq__`, `__str__` and `__len__` assign, and what the last two return."""
         for _, tree in self.each():

@@ -20,7 +20,7 @@ def is_whole(value):
 
 def is_integer(value):
     """Whether a value is an integer of at most sixty digits."""
-    return is_whole(value) and -_TOO_LONG < value < _TOO_LONG
+    return isinstance(value, int) and not isinstance(value, bool) and -_TOO_LONG < value < _TOO_LONG
 
 
 def is_name(value):

@@ -21,39 +21,31 @@ def dot(one, other):
 
 def triangle_of(rows, width):
     """The least rows of all sums of multiples of some rows of this width, or None if fewer would do."""
-    rest = [row for row in rows if any(row)]
-    found = []
-    for column in range(width):
-        met = [row for row in rest if row[column]]
-        rest = [row for row in rest if not row[column]]
-        while len(met) > 1:
-            cleared = _cleared_once(met, column)
-            rest = rest + [row for row in cleared if not row[column] and any(row)]
-            met = [row for row in cleared if row[column]]
-        if not met:
-            return None
-        found.append(met[0] if met[0][column] > 0 else [-entry for entry in met[0]])
-    return _least_above(found)
-
-
-def _cleared_once(rows, column):
-    """The row with the least integer in a column, and all other ones, less such multiples of it that others are left.
-    """
-    sizes = [abs(row[column]) for row in rows]
-    place = sizes.index(min(sizes))
-    lead = rows[place]
-    cleared = [lead]
-    for row in rows[:place] + rows[place + 1:]:
-        many = row[column] // lead[column]
-        cleared.append([entry - many * less for entry, less in zip(row, lead)])
-    return cleared
+    leads = [None] * width
+    for told in rows:
+        row = told
+        for column in range(width):
+            if row[column]:
+                lead = leads[column]
+                if lead is None:
+                    leads[column] = row
+                    break
+                while row[column]:
+                    many = row[column] // lead[column]
+                    row = [entry - many * less for entry, less in zip(row, lead)]
+                    if row[column]:
+                        lead, row = row, lead
+                leads[column] = lead
+    return None if None in leads else _least_above(leads)
 
 
 def _least_above(rows):
-    """Rows of a triangle, with the least integers of at least 0 above its diagonal."""
+    """Rows of a triangle, with integers above 0 on its diagonal and the least ones of at least 0 above it."""
     found = []
     for place in range(len(rows) - 1, -1, -1):
         row = rows[place]
+        if row[place] < 0:
+            row = [-entry for entry in row]
         for at, lower in enumerate(found):
             many = row[place + 1 + at] // lower[place + 1 + at]
             if many:
@@ -73,59 +65,71 @@ def is_within(rows, row):
     return True
 
 
-# Least rows are long ones for what they tell. Short ones are made by taking from each row the multiples of those ahead
-# that leave it nearest to them, and by putting it ahead of all longer ones. Of a row that is done these are kept: the
-# row, its pairings with the basis, its shares and its pairing with itself. The shares tell what it has of each row
-# ahead and, as the last one, what it has of its own: all multiplied by what makes integers of them.
+# Least rows are long ones for what they tell. Short ones are made by taking from a row the multiple of another one that
+# leaves it nearest to this one, as long as some row becomes shorter. What their pairings are goes along with them.
 
 
-def short_rows(rows, pairings):
-    """Short rows with the same sums of multiples as some free rows, and the table of their pairings."""
-    done = []
-    rest = list(rows)
-    while rest:
-        row, shares = _nearest(rest[0], done)
-        led = combined(row, pairings)
-        square = dot(row, led)
-        place = len([one for one in done if one[3] <= square])
-        rest = [one[0] for one in done[place:]] + rest[1:]
-        done = done[:place]
-        shares = shares[:place]
-        done.append((row, led, shares + [_last_share(square, shares, shares, done)], square))
-    return [one[0] for one in done], [[dot(one[0], other[1]) for other in done] for one in done]
-
-
-def _nearest(row, done):
-    """A row without what it has of the rows done, as far as multiples by integers can tell, and its shares."""
-    shares = []
-    for _, led, parts, _ in done:
-        shares.append(_last_share(dot(row, led), shares, parts, done))
-    for place in range(len(done) - 1, -1, -1):
-        other, _, parts, _ = done[place]
-        many = (2 * shares[place] + parts[place]) // (2 * parts[place])
-        if many:
-            row = [entry - many * less for entry, less in zip(row, other)]
-            shares = [share - many * part for share, part in zip(shares, parts)] + shares[place + 1:]
-    return row, shares
-
-
-def _last_share(pairing, shares, parts, done):
-    """What two rows with this pairing have in common beyond what their shares tell."""
-    last = 1
-    for place, share in enumerate(shares):
-        own = done[place][2][place]
-        pairing = (own * pairing - share * parts[place]) // last
-        last = own
-    return pairing
+def short_rows(told, table):
+    """Short rows with the same sums of multiples as four free rows, of which the table of the pairings is told, too."""
+    rows = list(told)
+    flat = [entry for row in table for entry in row]
+    is_short = False
+    while not is_short:
+        is_short = True
+        for at in range(4):
+            for by in range(4):
+                pairing, square = flat[4 * at + by], flat[5 * by]
+                if at != by and not -square <= 2 * pairing <= square:
+                    many = (2 * pairing + square) // (2 * square)
+                    rows[at] = [entry - many * less for entry, less in zip(rows[at], rows[by])]
+                    led = [entry - many * less for entry, less in zip(flat[4 * at:4 * at + 4], flat[4 * by:4 * by + 4])]
+                    led[at] = led[at] - many * led[by]
+                    for place, entry in enumerate(led):
+                        flat[4 * at + place] = entry
+                        flat[4 * place + at] = entry
+                    is_short = False
+    return rows, [flat[:4], flat[4:8], flat[8:12], flat[12:]]
 
 
 # Twice the norm of an element x is the sum of weight * L * L / D over four sums L of multiples of the integers of x,
 # of which each one leaves out one integer more: only a few integers make the last one small, to begin with.
 
 
+def count_of_norm(pairings, number):
+    """How many elements have a norm of at least 1, by the table of the pairings of a basis of four."""
+    (a, b, c, d), (_, e, f, g), (_, _, h, i), (_, _, _, j) = pairings
+    # The integers by which the sums without the first integer, and without the second one, are told.
+    k, m, n = a * e - b * b, a * f - b * c, a * g - b * d
+    p, q = (k * (a * h - c * c) - m * m) // a, (k * (a * i - c * d) - m * n) // a
+    last = (p * ((k * (a * j - d * d) - n * n) // a) - q * q) // k
+    found = 0
+    for w in range(isqrt(2 * number * p // last) + 1):
+        left = k * (2 * number * p - last * w * w)
+        most = isqrt(left)
+        met = 0
+        for z in range(-((most + q * w) // p), (most - q * w) // p + 1):
+            third = p * z + q * w
+            rest = (left - third * third) // p
+            shift = m * z + n * w
+            root = isqrt(a * rest)
+            for y in range(-((root + shift) // k), (root - shift) // k + 1):
+                second = k * y + shift
+                square = (a * rest - second * second) // k
+                first = isqrt(square)
+                if first * first == square:
+                    other = b * y + c * z + d * w
+                    if (first - other) % a == 0:
+                        met = met + 1
+                    if first and (first + other) % a == 0:
+                        met = met + 1
+        # With each element there is its opposite one.
+        found = found + (2 * met if w else met)
+    return found
+
+
 def all_of_norm(pairings, number):
     """The ascending tuple of all elements of a norm, by the table of the pairings of a basis."""
-    steps, total = _steps_of(pairings)
+    steps, total = _weighted_sums(pairings)
     layer = [((), 2 * number * total)]
     for row, weight in steps[:0:-1]:
         layer = [longer for tail, rest in layer for longer in _longer(row, weight, tail, rest)]
@@ -133,7 +137,7 @@ def all_of_norm(pairings, number):
     return tuple(sorted([found for tail, rest in layer for found in _ended(row, weight, tail, rest)]))
 
 
-def _steps_of(pairings):
+def _weighted_sums(pairings):
     """The rows of the sums L with their weights, and D; all of them are integers."""
     rest = pairings
     last = 1

@@ -1,12 +1,12 @@
 """Lots: the left ideals of the order of a prime, and the classes into which they fall."""
 
-from math import isqrt
-
 from levelroads.base.numbers import check_bounded, is_prime, is_whole, prime_powers
 from levelroads.errors import InvalidCount, InvalidElement, InvalidLot, InvalidOperation, TooMany
-from levelroads.quat.lattices import all_of_norm, combined, dot, is_within, short_rows, triangle_of
-from levelroads.quat.quaternions import Order, check_element, check_prime, is_element
-from levelroads.rim.groups import genus
+from levelroads.quat.bases import order_facts
+from levelroads.quat.classes import WHOLE, are_rows, lattice_rows, papers_of, products_before, rows_of_classes
+from levelroads.quat.classes import rows_within, shape_of, shapes_of_full, short_between, size_of, twice_norm
+from levelroads.quat.lattices import combined, count_of_norm, is_within, triangle_of
+from levelroads.quat.quaternions import check_element, check_prime, is_element
 
 MAX_NORM = 10000
 MAX_SIDES = 13
@@ -15,7 +15,6 @@ MAX_LISTED = 60
 _MAX_TOLD = 64
 _MAX_BEHIND = 8
 _MAX_TIMES = 100
-_WHOLE = ((1, 0, 0, 0), (0, 1, 0, 0), (0, 0, 1, 0), (0, 0, 0, 1))
 
 
 def check_lot(lot):
@@ -51,90 +50,29 @@ def least_rows(prime, told):
     return rows
 
 
-# Below, rows are the least rows of a lot, and the order is that of its prime.
-
-
-def _size_of(rows):
-    """The norm of a lot: the square of it is the product of the diagonals."""
-    product = 1
-    for place, row in enumerate(rows):
-        product = product * row[place]
-    return isqrt(product)
-
-
-def _before(order, y):
-    """The products of the basis of an order and an element."""
-    return [combined(y, row) for row in order.products]
-
-
-def _behind(order, x):
-    """The products of an element and the basis of an order."""
-    products = order.products
-    return [combined(x, column) for column in zip(*products)]
-
-
-def _back(order, x):
-    """The conjugate of an element."""
-    trace = dot(x, combined(order.one, order.pairings))
-    return [trace * entry - less for entry, less in zip(order.one, x)]
-
-
-def _is_least(rows):
-    """Whether four elements are the least rows of what they tell."""
-    for place, row in enumerate(rows):
-        if any(row[:place]) or row[place] < 1 or not all([0 <= above[place] < row[place] for above in rows[:place]]):
-            return False
-    return True
-
-
-def _are_rows(order, value):
-    """Whether a value is the least rows of a lot."""
+def _is_lot_of(prime, value):
+    """Whether a value is the least rows of a lot of a prime."""
     if not isinstance(value, tuple) or len(value) != 4 or not all([is_element(row) for row in value]):
         return False
-    return _is_least(value) and all([is_within(value, led) for row in value for led in _before(order, row)])
-
-
-def _rows_between(order, one, other):
-    """The least rows of the lattice between two lots."""
-    rows = []
-    for x in one:
-        led = _behind(order, _back(order, x))
-        rows.extend([combined(y, led) for y in other])
-    return triangle_of(rows, 4)
-
-
-def _short_between(order, one, other):
-    """Short rows of the lattice between two lots, and their pairings divided by the norms of both lots."""
-    rows, table = short_rows(_rows_between(order, one, other), order.pairings)
-    size = _size_of(one) * _size_of(other)
-    return rows, [[entry // size for entry in row] for row in table]
-
-
-def _papers(order, one, other):
-    """All papers of two lots."""
-    rows, pairings = _short_between(order, one, other)
-    return [tuple(combined(many, rows)) for many in all_of_norm(pairings, 1)]
-
-
-def _are_alike(order, one, other):
-    return len(all_of_norm(_short_between(order, one, other)[1], 1)) > 0
+    return value == WHOLE or are_rows(order_facts(prime), value)
 
 
 class Lot:
     """A lot of a prime. It never changes."""
 
     def __init__(self, prime, rows):
-        self._order = Order(prime)
-        if not _are_rows(self._order, rows):
+        check_prime(prime)
+        if not _is_lot_of(prime, rows):
             raise InvalidLot("the rows are the least rows of a lot")
-        self._size = _size_of(rows)
-        _check_size(self._size)
+        self._prime = prime
         self._rows = rows
+        self._size = size_of(rows)
+        _check_size(self._size)
 
     @property
     def prime(self):
         """The prime."""
-        return self._order.prime
+        return self._prime
 
     @property
     def rows(self):
@@ -151,7 +89,7 @@ class Lot:
         check_element(element)
         if not any(element):
             raise InvalidOperation("no lot is behind zero")
-        led = _before(self._order, element)
+        led = products_before(order_facts(self._prime), element)
         return self._told([combined(row, led) for row in self._rows])
 
     def multiplied(self, many):
@@ -173,19 +111,19 @@ class Lot:
 
     def _told(self, rows):
         """The lot whose elements are the sums of multiples of some rows."""
-        return _lot_of(self.prime, rows)
+        return _lot_of(self._prime, rows)
 
     def __contains__(self, x):
         return _is_whole_element(x) and is_within(self._rows, x)
 
     def __len__(self):
-        return len(_papers(self._order, self._rows, self._rows))
+        return len(papers_of(order_facts(self._prime), self._rows, self._rows))
 
     def __eq__(self, other):
-        return isinstance(other, Lot) and self.prime == other.prime and self._rows == other.rows
+        return isinstance(other, Lot) and self._prime == other._prime and self._rows == other._rows
 
     def __str__(self):
-        return f"{_text_of(self._rows)} over {self.prime}"
+        return f"{_text_of(self._rows)} over {self._prime}"
 
 
 def _text_of(rows):
@@ -199,14 +137,26 @@ def _is_whole_element(value):
 
 def _lot_of(prime, rows):
     """The lot whose elements are the sums of multiples of some rows; its norm may be too great."""
-    least = triangle_of(rows, 4)
-    _check_size(_size_of(least))
-    return Lot(prime, least)
+    return _lot_with(prime, triangle_of(rows, 4))
+
+
+def _lot_with(prime, rows):
+    """The lot with what surely are the least rows of one; its norm may be too great."""
+    size = size_of(rows)
+    _check_size(size)
+    # To ask again whether they are would take longer than most of what makes lots.
+    lot = Lot(2, WHOLE)
+    lot._prime, lot._rows, lot._size = prime, rows, size
+    return lot
+
+
+def _lots_with(prime, found):
+    return tuple([_lot_with(prime, rows) for rows in found])
 
 
 def whole_lot(prime):
     """The lot of all elements of the order of a prime."""
-    return Lot(prime, _WHOLE)
+    return Lot(prime, WHOLE)
 
 
 def lot_of(prime, told):
@@ -215,68 +165,43 @@ def lot_of(prime, told):
     _check_told(told, _MAX_BEHIND)
     if not any([any(one) for one in told]):
         raise InvalidOperation("one of those that are told is not zero")
-    order = Order(prime)
-    return _lot_of(prime, [led for one in told for led in _before(order, one)])
+    facts = order_facts(prime)
+    return _lot_of(prime, [led for one in told for led in products_before(facts, one)])
 
 
 def rows_between(one, other):
     """The least rows of the lattice between two lots."""
     _check_both(one, other)
-    return _rows_between(Order(one.prime), one.rows, other.rows)
+    return lattice_rows(order_facts(one.prime), one.rows, other.rows)
 
 
 def count_between(one, other, number):
     """How many elements of the lattice between two lots have the norm that is a number times both norms."""
     _check_both(one, other)
     check_bounded(number, 1, MAX_LISTED)
-    return len(all_of_norm(_short_between(Order(one.prime), one.rows, other.rows)[1], number))
+    return count_of_norm(short_between(order_facts(one.prime), one.rows, other.rows)[1], number)
 
 
 def are_alike_lots(one, other):
     """Whether two lots are alike."""
     _check_both(one, other)
-    return _are_alike(Order(one.prime), one.rows, other.rows)
+    return count_of_norm(short_between(order_facts(one.prime), one.rows, other.rows)[1], 1) > 0
 
 
 def lot_paper(one, other):
     """A paper of two lots, or None if they are not alike."""
     _check_both(one, other)
-    papers = _papers(Order(one.prime), one.rows, other.rows)
+    papers = papers_of(order_facts(one.prime), one.rows, other.rows)
     return papers[0] if papers else None
 
 
 def is_lot_paper(one, other, value):
     """Whether a value is a paper of two lots."""
     _check_both(one, other)
-    if not _is_whole_element(value):
+    facts = order_facts(one.prime)
+    if not _is_whole_element(value) or twice_norm(facts, value) != 2 * one.size * other.size:
         return False
-    order = Order(one.prime)
-    if dot(value, combined(value, order.pairings)) != 2 * one.size * other.size:
-        return False
-    return is_within(_rows_between(order, one.rows, other.rows), value)
-
-
-def _rows_within(order, rows, prime):
-    """The ascending list of the rows of all lots within a lot whose norm is a prime times its own."""
-    size = _size_of(rows)
-    led_rows = [combined(row, order.pairings) for row in rows]
-    pairings = [[dot(row, led) // size for led in led_rows] for row in rows]
-    multiples = [[prime * entry for entry in row] for row in rows]
-    most = 1 if prime == order.prime else prime + 1
-    found = {}
-    # Each of these lots is told by any of its elements that is no multiple of the prime, and has such with 0 as the
-    # multiple of the first row; these are just the ones whose norm has the prime once more.
-    for many in _points(prime):
-        if len(found) < most and dot(many, combined(many, pairings)) // 2 % prime == 0:
-            products = _before(order, combined(many, rows))
-            found[triangle_of(products + multiples, 4)] = True
-    return sorted(found)
-
-
-def _points(prime):
-    """One of each line of multiples, modulo a prime, of the rows of four integers that begin with 0."""
-    points = [(0, 1, y, z) for y in range(prime) for z in range(prime)]
-    return points + [(0, 0, 1, z) for z in range(prime)] + [(0, 0, 0, 1)]
+    return is_within(lattice_rows(facts, one.rows, other.rows), value)
 
 
 def neighbours(lot, number):
@@ -284,96 +209,55 @@ def neighbours(lot, number):
     check_lot(lot)
     if not is_prime(number) or number > MAX_SIDES or number == lot.prime:
         raise InvalidCount(number)
-    return tuple([Lot(lot.prime, rows) for rows in _rows_within(Order(lot.prime), lot.rows, number)])
+    return _lots_with(lot.prime, rows_within(order_facts(lot.prime), lot.rows, number, number + 1))
 
 
 def lots(prime):
     """A tuple of lots of a prime with one lot of each class."""
-    return tuple([Lot(prime, rows) for rows in _rows_of_classes(Order(prime))])
-
-
-def _rows_of_classes(order):
-    """The list of the rows of one lot of each class."""
-    most = genus(order.prime) + 1
-    found = [_WHOLE]
-    at = 0
-    while len(found) < most:
-        # The lots of the prime 2 are one class alone: there no neighbours are asked.
-        near = _rows_within(order, found[at], 2)
-        for rows in near:
-            if not _is_met(order, found, rows):
-                found.append(rows)
-        at = at + 1
-    return found
-
-
-def _is_met(order, found, rows):
-    for one in found:
-        if _are_alike(order, one, rows):
-            return True
-    return False
+    check_prime(prime)
+    return _lots_with(prime, rows_of_classes(order_facts(prime), prime))
 
 
 def are_lots(prime, value):
     """Whether a value is a tuple of lots of a prime with one lot of each class."""
     check_prime(prime)
-    return forms_of_lots(value) is not None and value[0].prime == prime
+    return told_shapes(value) is not None and value[0].prime == prime
 
 
-# The forms of a full list are, at r and s with s at most r, the pairings, divided by both norms, of short rows of the
-# lattice between its lots r and s.
-
-
-def forms_of_classes(prime):
-    """The forms of some full list of a prime."""
-    order = Order(prime)
-    found = _rows_of_classes(order)
-    forms = []
-    for place, rows in enumerate(found):
-        forms.append([_short_between(order, rows, other)[1] for other in found[:place + 1]])
-    return forms
-
-
-def forms_of_lots(value):
-    """The forms of a full list of a prime, or None for all other values."""
+def told_shapes(value):
+    """The shapes of the lots of a full list of a prime, or None for all other values."""
     if not isinstance(value, tuple) or not value or not all([isinstance(lot, Lot) for lot in value]):
         return None
     prime = value[0].prime
-    if len(value) != genus(prime) + 1 or not all([lot.prime == prime for lot in value]):
+    if not all([lot.prime == prime for lot in value]):
         return None
-    order = Order(prime)
-    forms = []
-    for place, lot in enumerate(value):
-        found = [_short_between(order, lot.rows, other.rows)[1] for other in value[:place]]
-        if any([len(all_of_norm(pairings, 1)) > 0 for pairings in found]):
-            return None
-        found.append(_short_between(order, lot.rows, lot.rows)[1])
-        forms.append(found)
-    return forms
+    return shapes_of_full(order_facts(prime), prime, [lot.rows for lot in value])
 
 
 def lots_of_norm(prime, number):
     """The ascending tuple of all lots of a norm."""
     check_prime(prime)
     check_bounded(number, 1, MAX_LISTED)
-    order = Order(prime)
-    layer = [_WHOLE]
+    facts = order_facts(prime)
+    layer = [WHOLE]
     for factor, times in prime_powers(number).items():
+        most = 1 if factor == prime else factor + 1
         for _ in range(times):
             found = {}
             for rows in layer:
-                for within in _rows_within(order, rows, factor):
+                for within in rows_within(facts, rows, factor, most):
                     found[within] = True
             layer = sorted(found)
-    return tuple([Lot(prime, rows) for rows in layer])
+    return _lots_with(prime, layer)
 
 
 def class_of(told, lot):
     """The index, in a tuple of lots with one of each class, of the one that is alike with a lot."""
-    if forms_of_lots(told) is None:
+    shapes = told_shapes(told)
+    if shapes is None:
         raise InvalidLot("the lots are a tuple of one lot of each class")
     check_lot(lot)
     if lot.prime != told[0].prime:
         raise InvalidOperation("all lots have the same prime")
-    order = Order(lot.prime)
-    return [_are_alike(order, one.rows, lot.rows) for one in told].index(True)
+    least = shape_of(order_facts(lot.prime), lot.rows)[0]
+    return [shape[0] for shape in shapes].index(least)

@@ -1,9 +1,10 @@
 """The order of quaternions that belongs to a prime, and what its elements are multiplied and measured by."""
 
-from levelroads.base.numbers import check_bounded, is_integer, is_prime, roots_modulo
+from levelroads.base.numbers import check_bounded, is_integer, is_prime
 from levelroads.base.ratios import Ratio
 from levelroads.base.tables import divided_row, mixed_row, whole_row
 from levelroads.errors import InvalidElement, InvalidOperation, InvalidPrime
+from levelroads.quat.bases import modulus_of, order_facts, root_of, told_basis
 from levelroads.quat.lattices import all_of_norm
 
 MAX_PRIME = 97
@@ -31,55 +32,19 @@ def check_element(value):
 def least_modulus(prime):
     """The least prime that leaves 3 modulo 4 and modulo which a prime that leaves 1 modulo 8 is no square."""
     _check_one_modulo_eight(prime)
-    modulus = 3
-    while not is_prime(modulus) or roots_modulo(modulus, 0, -prime):
-        modulus = modulus + 4
-    return modulus
+    return modulus_of(prime)
 
 
 def root_modulus(prime):
     """The least c of at least 0 for which the least modulus q divides c * c * p + 1, p being the prime."""
-    modulus = least_modulus(prime)
-    root = 0
-    while (root * root * prime + 1) % modulus:
-        root = root + 1
-    return root
+    _check_one_modulo_eight(prime)
+    return root_of(prime, modulus_of(prime))
 
 
 def _check_one_modulo_eight(prime):
     check_prime(prime)
     if prime % 8 != 1:
         raise InvalidOperation("the prime leaves 1 modulo 8")
-
-
-def _told_basis(prime):
-    """The squares of i and j, the quaternions of the basis multiplied by an integer, this integer, and 1, i, j and k.
-
-    These four are told by their multiples of the basis, which are integers.
-    """
-    if prime == 2:
-        tops = ((1, 1, 1, 1), (0, 2, 0, 0), (0, 0, 2, 0), (0, 0, 0, 2))
-        return (-1, -1), tops, 2, ((2, -1, -1, -1), (0, 1, 0, 0), (0, 0, 1, 0), (0, 0, 0, 1))
-    if prime % 4 == 3:
-        tops = ((1, 0, 1, 0), (0, 1, 0, 1), (0, 0, 2, 0), (0, 0, 0, 2))
-        return (-1, -prime), tops, 2, ((2, 0, -1, 0), (0, 2, 0, -1), (0, 0, 1, 0), (0, 0, 0, 1))
-    if prime % 8 == 5:
-        tops = ((2, 0, 2, 2), (0, 1, 2, 1), (0, 0, 4, 0), (0, 0, 0, 4))
-        return (-2, -prime), tops, 4, ((2, 0, -1, -1), (0, 4, -2, -1), (0, 0, 1, 0), (0, 0, 0, 1))
-    q, c = least_modulus(prime), root_modulus(prime)
-    tops = ((q, 0, q, 0), (0, q, 0, q), (0, 0, 2, 2 * c), (0, 0, 0, 2 * q))
-    return (-prime, -q), tops, 2 * q, ((2, 0, -q, c), (0, 2, 0, -1), (0, 0, q, -c), (0, 0, 0, 1))
-
-
-def _quaternion_product(squares, one, other):
-    """The product of two quaternions of integers."""
-    first, second = squares
-    a, b, c, d = one
-    x, y, z, w = other
-    return (a * x + first * b * y + second * c * z - first * second * d * w,
-            a * y + b * x - second * c * w + second * d * z,
-            a * z + c * x + first * b * w - first * d * y,
-            a * w + d * x + b * z - c * y)
 
 
 def _element_of(tops, bottom, units):
@@ -90,32 +55,15 @@ def _element_of(tops, bottom, units):
     return tuple([entry // bottom for entry in row])
 
 
-def _conjugate(one):
-    return one[0], -one[1], -one[2], -one[3]
-
-
 class Order:
     """The order of a prime. It never changes."""
 
     def __init__(self, prime):
         check_prime(prime)
         self._prime = prime
-        squares, tops, bottom, units = _told_basis(prime)
-        self._squares = squares
-        self._tops = tops
-        self._bottom = bottom
-        self._units = units
-        self._basis = tuple([divided_row(row, bottom) for row in tops])
-        self._products = tuple([tuple([self._product_at(one, other) for other in tops]) for one in tops])
-        self._pairings = tuple([tuple([self._pairing_at(one, other) for other in tops]) for one in tops])
-
-    def _product_at(self, one, other):
-        product = _quaternion_product(self._squares, one, other)
-        return _element_of(product, self._bottom * self._bottom, self._units)
-
-    def _pairing_at(self, one, other):
-        product = _quaternion_product(self._squares, one, _conjugate(other))
-        return 2 * product[0] // (self._bottom * self._bottom)
+        self._squares, self._tops, self._bottom, self._units = told_basis(prime)
+        self._basis = tuple([divided_row(row, self._bottom) for row in self._tops])
+        _, self._products, self._pairings = order_facts(prime)
 
     @property
     def prime(self):
