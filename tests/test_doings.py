@@ -122,6 +122,16 @@ class Doings(Case):
             self.assertEqual(done(told, 1), told)
             self.assertTrue(done(space.zero, 7).is_zero)
 
+    def test_all_levels(self):
+        """Some symbols of the basis of each level, also where the number and the level have common divisors."""
+        chance = random.Random(98)
+        for level in range(1, 101):
+            space = Space(level)
+            if space.basis:
+                for number in (2, 3, 4, 5, 6, 8, 11, 13) + tuple(chance.sample(range(14, 61), 2)):
+                    pair = chance.choice(space.basis)
+                    self.assertEqual(done(space.symbol(*pair), number), plain_led(space, pair, number))
+
     def test_great_sums(self):
         told = ELEVEN.symbol(1, 2).scaled(SIXTY).scaled(Ratio(SIXTY, 2))
         self.assertEqual(done(told, 2), told.scaled(-2))

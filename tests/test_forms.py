@@ -90,10 +90,10 @@ class Rows(Case):
 
     def test_against_all_places(self):
         """[14.1]"""
-        for level in (1, 11, 12, 22, 23, 26, 30, 33, 37, 39, 46, 57, 60):
+        for level in (1, 11, 12, 22, 23, 26, 30, 33, 34, 37, 39, 42, 46, 52, 57, 60, 68, 75):
             for size in (1, 2, 3, 7, 20) if level > 30 else (1, 4, 60):
-                found = form_rows(SPACES[level], size)
-                wanted = plain_rows(SPACES[level], size)
+                found = form_rows(Space(level), size)
+                wanted = plain_rows(Space(level), size)
                 self.assertEqual((type(found), found), (tuple, wanted))
 
     def test_rows(self):

@@ -179,10 +179,10 @@ class Kinds(Case):
                 self.same(product, doing_polynomial(space, number))
 
     def test_polynomials_of_the_half(self):
-        for level in (1, 11, 12, 22, 23, 30, 37, 46, 66):
-            for number in (1, 2, 3, 6, 11, 30, 60):
-                wanted = polynomial_of(doing_table(SPACES[level], number, part="staying"))
-                found = doing_polynomial(SPACES[level], number)
+        for level in (1, 11, 12, 22, 23, 27, 30, 34, 36, 37, 44, 46, 52, 60, 65, 66, 68, 75, 84, 90, 96):
+            for number in (1, 2, 3, 4, 6, 8, 9, 11, 16, 25, 30, 36, 59, 60):
+                wanted = polynomial_of(doing_table(Space(level), number, part="staying"))
+                found = doing_polynomial(Space(level), number)
                 self.same(found, tuple(entry.top for entry in wanted))
                 self.assertEqual(len(found), genus(level) + 1)
 

@@ -13,13 +13,18 @@ def lead_places(rows):
 
 def is_mix(rows, row):
     """Whether a row of ratios is a mix of the rows of an echelon, which are as long as it."""
-    leads = lead_places(rows)
-    many = common_bottom(rows)
+    leads, whole, many = whole_echelon(rows)
     entries = _whole_entries(row, common_bottom((row,)))
     mixed = [0] * len(entries)
-    for lead, one in zip(leads, rows):
-        mixed = [entry + entries[lead] * part for entry, part in zip(mixed, _whole_entries(one, many))]
+    for lead, one in zip(leads, whole):
+        mixed = [entry + entries[lead] * part for entry, part in zip(mixed, one)]
     return mixed == [many * entry for entry in entries]
+
+
+def whole_echelon(rows):
+    """The places of the first 1 of each row of an echelon, its rows as integers, and the integer that divides them."""
+    times = common_bottom(rows)
+    return lead_places(rows), [_whole_entries(row, times) for row in rows], times
 
 
 def common_bottom(rows):

@@ -8,6 +8,7 @@ from levelroads.errors import InvalidCount, InvalidOperation, ParseError
 MAX_FIGURES = 60
 
 _FIGURES = "0123456789"
+_TOO_LONG = 10 ** 60
 _PART_FIGURES = 64
 _PART = 10 ** 64
 
@@ -93,12 +94,16 @@ class Ratio:
 
 def exact_ratio(top, bottom):
     """The ratio of two integers of any length, the bottom not 0."""
+    if -_TOO_LONG < top < _TOO_LONG and -_TOO_LONG < bottom < _TOO_LONG:
+        return Ratio(top, bottom)
     ratio = Ratio(0)
     ratio._top, ratio._bottom = _lowest(top, bottom)
     return ratio
 
 
 def _lowest(top, bottom):
+    if bottom == 1:
+        return top, 1
     shared = gcd(top, bottom)
     if bottom < 0:
         shared = -shared

@@ -172,8 +172,17 @@ def _full_steps(rows, width):
 def echelon(table):
     """The echelon with the mixes of a table."""
     check_table(table)
-    steps = _full_steps(_whole_rows(table), _width_of(table))
-    return tuple([divided_row(row, row[column]) for column, row in steps])
+    return echelon_of_whole(_whole_rows(table))
+
+
+def echelon_of_whole(rows):
+    """The same for rows of integers."""
+    return tuple([divided_row(row, row[column]) for column, row in _full_steps(rows, _width_of(rows))])
+
+
+def free_multiples(rows):
+    """The rows of the echelon with the mixes of rows of integers, each one multiplied by some integer."""
+    return [row for _, row in _full_steps(rows, _width_of(rows))]
 
 
 def rank_of(table):
@@ -195,10 +204,22 @@ def _rank(table):
 def kernel_of(table):
     """The echelon of the rows whose product with a table has only zeros."""
     check_table(table)
-    size = len(table)
-    # The last row first: then what is told for each free place below begins with the 1 of this place.
     turned = table[::-1]
-    columns = _whole_rows(list(zip(*turned)))
+    return _kernel(_whole_rows(list(zip(*turned))), len(table))
+
+
+def kernel_of_whole(rows):
+    """The same for rows of integers."""
+    turned = rows[::-1]
+    # Many columns are alike, as a rule.
+    return _kernel(list({column: True for column in zip(*turned)}), len(rows))
+
+
+def _kernel(columns, size):
+    """The kernel of a table of so many rows, by columns of integers that begin with the last row.
+
+    So what is told for each free place below begins with the 1 of this place.
+    """
     steps = _full_steps(columns, size)
     bound = [column for column, _ in steps]
     free = [place for place in range(size) if place not in bound]
@@ -209,7 +230,8 @@ def _kernel_row(steps, place, size):
     row = [Ratio(0)] * size
     row[place] = Ratio(1)
     for column, lead in steps:
-        row[column] = exact_ratio(-lead[place], lead[column])
+        if lead[place]:
+            row[column] = exact_ratio(-lead[place], lead[column])
     return tuple(row[::-1])
 
 
@@ -225,6 +247,12 @@ def table_product(one, other):
 def _product(one, other):
     columns = [whole_row(column) for column in zip(*other)]
     return tuple([_product_row(row, columns) for row in one])
+
+
+def whole_product(one, other):
+    """The product of two tables of integers, as lists."""
+    columns = list(zip(*other))
+    return [[_dot(row, column) for column in columns] for row in one]
 
 
 def _product_row(row, columns):
@@ -285,13 +313,13 @@ def polynomial_of(table):
     rows = [[entry.top * (times // entry.bottom) for entry in row] for row in table]
     ratios = []
     bottom = 1
-    for factor in _whole_polynomial(rows):
+    for factor in whole_polynomial(rows):
         ratios.append(exact_ratio(factor, bottom))
         bottom = bottom * times
     return tuple(ratios[::-1])
 
 
-def _whole_polynomial(rows):
+def whole_polynomial(rows):
     """The polynomial of integers, that of the highest power first, without any division.
 
     The table of the first rows and columns is made wider by one at a time; what that does to

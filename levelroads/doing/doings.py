@@ -1,9 +1,8 @@
 """The doings on sums of paths, turning and exchanging, and their tables on the parts of a space."""
 
-from levelroads.base.mixes import lead_places
-from levelroads.base.numbers import check_bounded
-from levelroads.base.ratios import Ratio
-from levelroads.base.tables import divided_row, kernel_of, mixed_row, whole_row
+from levelroads.base.mixes import whole_echelon
+from levelroads.base.numbers import check_bounded, divisors, prime_powers
+from levelroads.base.tables import divided_row, mixed_row, whole_product, whole_row
 from levelroads.errors import UnknownName
 from levelroads.rim.rims import led_fraction
 from levelroads.symbol.symbols import Sum, check_space, check_sum, path_ends
@@ -25,41 +24,45 @@ def _check_part(part):
 def matrices_of(number):
     """The ascending tuple of the matrices of a number."""
     check_doing(number)
-    return _matrices(number)
-
-
-def _matrices(number):
+    # With i = a - b and j = d - c, both above 0, the determinant is j * a + i * c: so i divides what j * a leaves.
     found = []
     for a in range(1, number + 1):
-        for b in range(a):
-            for c, d in _lower_rows(a, b, number):
-                found.append((a, b, c, d))
-    return tuple(found)
+        for j in range(1, number // a + 1):
+            rest = number - j * a
+            found.extend([(a, a - i, rest // i, rest // i + j) for i in range(1, a + 1) if rest % i == 0])
+    return tuple(sorted(found))
 
 
-def _lower_rows(a, b, number):
-    """The ascending list of all (c, d) with a * d - b * c == number and d > c >= 0."""
-    if b == 0:
-        return [(c, number // a) for c in range(number // a)] if number % a == 0 else []
-    # The integer c grows with d, and behind the last d it is not below it any more.
-    behind = (number - 1) // (a - b) + 1
-    rows = []
-    for d in range((number - 1) // a + 1, behind):
-        c, rest = divmod(a * d - number, b)
-        if rest == 0:
-            rows.append((c, d))
-    return rows
+# Other matrices than those of n tell T_n, too. These are fewer, above all for great n: for each (a, -b, 0, n / a), a
+# being a divisor of n and b one of each residue modulo a, a path is cut into symbols by the integers that are nearest
+# to quotients, as the path from 0 to a fraction is cut by the greatest ones that are not above them.
+
+
+def _few_matrices(number):
+    """Matrices that lead a pair to pairs whose symbols add up to what T_n, n being the number, makes of its symbol."""
+    found = []
+    for a in divisors(number):
+        for b in range(-((a - 1) // 2), a // 2 + 1):
+            x, y, z, w = a, -b, 0, number // a
+            found.append((x, y, z, w))
+            high, low = -a, b
+            while low:
+                nearest = (2 * high + low) // (2 * low)
+                high, low = -low, high - nearest * low
+                x, y, z, w = y, nearest * y - x, w, nearest * w - z
+                found.append((x, y, z, w))
+    return found
 
 
 # Below, the images are a list of rows of integers: of those to which the symbols of the basis are led.
 
 
 def doing_images(space, number, rows):
-    """The images by T_n, n being the number; those that no mix of some rows needs are zeros."""
-    matrices = _matrices(number)
+    """The images by T_n, n being the number; those that no mix of some rows of integers needs are zeros."""
+    matrices = _few_matrices(number)
     images = []
     for place, pair in enumerate(space.basis):
-        if any([row[place].top for row in rows]):
+        if any([row[place] for row in rows]):
             images.append(_doing_image(space, pair, matrices))
         else:
             images.append([0] * len(space))
@@ -67,16 +70,17 @@ def doing_images(space, number, rows):
 
 
 def _doing_image(space, pair, matrices):
-    level, numbers = space.level, space.numbers
+    level, numbers, images = space.level, space.numbers, space.images
     c, d = pair
-    counts = [0] * (len(space.pairs) + 1)
+    row = [0] * len(space)
     for x, y, z, w in matrices:
-        counts[numbers[(c * x + d * z) % level * level + (c * y + d * w) % level]] += 1
-    return space.row_of_counts(counts)
+        for place, sign in images[numbers[(c * x + d * z) % level * level + (c * y + d * w) % level]]:
+            row[place] += sign
+    return row
 
 
 def _turned_images(space):
-    return [space.row_of_counts(space.counts_of([(-c, d)])) for c, d in space.basis]
+    return [space.row_of_pair(-c, d) for c, d in space.basis]
 
 
 def _exchanged_images(space):
@@ -93,22 +97,53 @@ def _led_sum(told, images):
     return Sum(told.space, divided_row(mixed_row(entries, images, len(images)), times))
 
 
-def table_on(rows, images):
-    """The table of what happens to the rows of an echelon, which are led to mixes of them."""
-    leads = lead_places(rows)
-    table = []
-    for row in rows:
-        entries, times = whole_row(row)
-        led = mixed_row(entries, images, len(images))
-        table.append(divided_row([led[lead] for lead in leads], times))
-    return tuple(table)
+# What happens to the rows of an echelon, which are led to mixes of them, is a table. The echelon is told as
+# `whole_echelon` tells it, and the table by integers that are divided by another one.
+
+
+def _table_on(rows, images):
+    told = whole_echelon(rows)
+    return tuple([divided_row(row, told[2]) for row in whole_table(told, images)])
+
+
+def whole_table(told, images):
+    """The integers of the table on an echelon; what divides them is what divides those of the echelon."""
+    leads, rows, _ = told
+    needed = [[image[lead] for lead in leads] for image in images]
+    return [mixed_row(row, needed, len(rows)) for row in rows]
+
+
+def doing_on(space, told, number):
+    """The integers of the table of T_n, n being the number, on an echelon, and what divides them.
+
+    All T_m, with m a divisor of n, lead the mixes of the echelon to such.
+    """
+    table, bottom = _unit_rows(len(told[1])), 1
+    for prime, times in prime_powers(number).items():
+        power, divisor = _power_on(space, told, prime, times)
+        table, bottom = whole_product(table, power), bottom * divisor
+    return table, bottom
+
+
+def _power_on(space, told, prime, times):
+    """The same for a power of a prime."""
+    _, rows, bottom = told
+    table = whole_table(told, doing_images(space, prime, rows))
+    last, power, divisor = _unit_rows(len(rows)), table, bottom
+    for _ in range(times - 1):
+        further = whole_product(power, table)
+        if space.level % prime:
+            many = prime * bottom * bottom
+            further = [[entry - many * less for entry, less in zip(row, below)] for row, below in zip(further, last)]
+        last, power, divisor = power, further, divisor * bottom
+    return power, divisor
 
 
 def done(told, number):
     """The sum to which T_n, n being the number, leads a sum."""
     check_sum(told)
     check_doing(number)
-    return _led_sum(told, doing_images(told.space, number, (told.row,)))
+    return _led_sum(told, doing_images(told.space, number, [whole_row(told.row)[0]]))
 
 
 def turned(told):
@@ -140,21 +175,12 @@ def _rows_of(space, part):
     if part == "closed":
         return space.closed_rows()
     if part == "staying":
-        return staying_rows(space)
+        return space.staying_half()[0]
     return tuple([divided_row(row, 1) for row in _unit_rows(len(space))])
 
 
 def _unit_rows(size):
     return [[1 if at == place else 0 for at in range(size)] for place in range(size)]
-
-
-def staying_rows(space):
-    """The rows of the staying sums of a space: what has no boundary and is not changed if it is turned."""
-    table = []
-    for unit, boundary, image in zip(_unit_rows(len(space)), space.boundaries(), _turned_images(space)):
-        change = [entry - same for entry, same in zip(image, unit)]
-        table.append(divided_row(boundary + change, 1))
-    return kernel_of(tuple(table))
 
 
 def doing_table(space, number, *, part="all"):
@@ -163,22 +189,21 @@ def doing_table(space, number, *, part="all"):
     check_doing(number)
     _check_part(part)
     rows = _rows_of(space, part)
-    return table_on(rows, doing_images(space, number, rows))
+    return _table_on(rows, doing_images(space, number, whole_echelon(rows)[1]))
 
 
 def exchange_table(space, *, part="all"):
     """The table of exchanging on a part of a space."""
     check_space(space)
     _check_part(part)
-    return table_on(_rows_of(space, part), _exchanged_images(space))
+    return _table_on(_rows_of(space, part), _exchanged_images(space))
 
 
 def exchange_signs(space):
     """The dimensions of the staying sums that are the same exchanged, and of those that become their opposites."""
     check_space(space)
-    rows = staying_rows(space)
+    _, told = space.staying_half()
+    table = whole_table(told, _exchanged_images(space))
     # Exchanged twice, each sum is as it was: so the diagonal adds up to the difference of both dimensions.
-    difference = Ratio(0)
-    for place, row in enumerate(table_on(rows, _exchanged_images(space))):
-        difference = difference.plus(row[place])
-    return (len(rows) + difference.top) // 2, (len(rows) - difference.top) // 2
+    difference = sum([row[place] for place, row in enumerate(table)]) // told[2]
+    return (len(table) + difference) // 2, (len(table) - difference) // 2

@@ -1,10 +1,10 @@
 """The kinds into which the staying half of a space falls, and what the doings do on each of them."""
 
-from levelroads.base.mixes import common_bottom, is_mix
+from levelroads.base.mixes import is_mix, whole_echelon
 from levelroads.base.numbers import check_proper, is_prime
 from levelroads.base.polys import poly_factors
-from levelroads.base.tables import divided_row, kernel_of, multiples_in, polynomial_of, table_product
-from levelroads.doing.doings import check_doing, doing_images, is_staying, staying_rows, table_on
+from levelroads.base.tables import kernel_of_whole, multiples_in, table_product, whole_polynomial, whole_product
+from levelroads.doing.doings import check_doing, doing_images, doing_on, is_staying, whole_table
 from levelroads.errors import InvalidOperation
 from levelroads.symbol.symbols import Sum, check_space, check_sum
 
@@ -15,26 +15,33 @@ def doing_polynomial(space, number):
     """The polynomial of T_n, n being the number, on the staying half of a space."""
     check_space(space)
     check_doing(number)
-    rows = staying_rows(space)
-    return _polynomial_on(rows, doing_images(space, number, rows))
+    table, bottom = doing_on(space, space.staying_half()[1], number)
+    return _divided_polynomial(table, bottom)
 
 
-def _polynomial_on(rows, images):
-    return tuple([entry.top for entry in polynomial_of(table_on(rows, images))])
+def _divided_polynomial(table, bottom):
+    """The polynomial, of integers, of a table of integers that are divided by another one."""
+    entries = []
+    many = 1
+    for factor in whole_polynomial(table):
+        entries.append(factor // many)
+        many = many * bottom
+    return tuple(entries[::-1])
 
 
 def kinds(space):
     """The tuple of all kinds of the level of a space, in order."""
     check_space(space)
-    rows = staying_rows(space)
+    rows, whole = space.staying_half()
     primes = [prime for prime in range(2, MAX_PARTING + 1) if is_prime(prime) and space.level % prime]
-    images = [doing_images(space, prime, rows) for prime in primes]
+    images = [doing_images(space, prime, whole[1]) for prime in primes]
     found = []
     for part, degree in _parted(rows, images):
-        polynomials = tuple([_polynomial_on(part, some) for some in images])
+        told = whole_echelon(part)
+        polynomials = tuple([_divided_polynomial(whole_table(told, some), told[2]) for some in images])
         found.append((len(part), polynomials, Kind(space, part, degree)))
     ordered = sorted(found, key=lambda row: (row[0], row[1]))
-    return tuple([told[2] for told in ordered])
+    return tuple([kind for _, _, kind in ordered])
 
 
 def _parted(rows, images):
@@ -53,30 +60,31 @@ def _pieces(part, degree, images):
     if degree == len(part):
         # What all doings make of one sum is all of the part: it does not fall any more.
         return [(part, degree)]
-    table = table_on(part, images)
-    factors = poly_factors(tuple([entry.top for entry in polynomial_of(table)]))
+    told = whole_echelon(part)
+    table, bottom = whole_table(told, images), told[2]
+    factors = poly_factors(_divided_polynomial(table, bottom))
     if len(factors) == 1:
         return [(part, max(degree, len(factors[0][0]) - 1))]
     pieces = []
     for factor, _ in factors:
-        rows = table_product(kernel_of(_value_at(factor, table)), part)
+        rows = table_product(kernel_of_whole(_value_at(factor, table, bottom)), part)
         pieces.append((rows, max(degree, len(factor) - 1)))
     return pieces
 
 
-def _value_at(poly, table):
-    """What a polynomial becomes if a table is put for X, multiplied by an integer that makes all entries integers."""
-    times = common_bottom(table)
-    rows = [[entry.top * (times // entry.bottom) for entry in row] for row in table]
-    columns = list(zip(*rows))
-    value = _diagonal(len(rows), poly[-1])
+def _value_at(poly, table, bottom):
+    """What a polynomial becomes if a table is put for X, multiplied by an integer that makes all entries integers.
+
+    The table is one of integers that are divided by another one.
+    """
+    value = _diagonal(len(table), poly[-1])
     many = 1
     for entry in poly[-2::-1]:
-        many = many * times
-        value = [[sum([one * other for one, other in zip(row, column)]) for column in columns] for row in value]
+        many = many * bottom
+        value = whole_product(value, table)
         for place, row in enumerate(value):
             row[place] += many * entry
-    return tuple([divided_row(row, 1) for row in value])
+    return value
 
 
 def _diagonal(size, entry):
@@ -95,6 +103,11 @@ class Kind:
     def level(self):
         """The level."""
         return self._space.level
+
+    @property
+    def space(self):
+        """The space."""
+        return self._space
 
     @property
     def rows(self):
@@ -124,7 +137,8 @@ class Kind:
     def polynomial(self, number):
         """The polynomial of T_n, n being the number, on the kind."""
         self._check_proper(number)
-        return _polynomial_on(self._rows, doing_images(self._space, number, self._rows))
+        table, bottom = doing_on(self._space, whole_echelon(self._rows), number)
+        return _divided_polynomial(table, bottom)
 
     def base(self, number):
         """The irreducible polynomial of which the polynomial is a power."""
@@ -135,8 +149,8 @@ class Kind:
         self._check_proper(number)
         if self._degree > 1:
             raise InvalidOperation("the kind has the degree 1")
-        row = self._rows[:1]
-        return table_on(row, doing_images(self._space, number, row))[0][0].top
+        table, bottom = doing_on(self._space, whole_echelon(self._rows[:1]), number)
+        return table[0][0] // bottom
 
     def _check_proper(self, number):
         check_doing(number)

@@ -1,10 +1,10 @@
 """What lowering leads from a level to those that divide it, what is new at a level, and where kinds are at home."""
 
 from levelroads.base.numbers import check_bounded, check_level, divisors, prime_powers
-from levelroads.base.tables import divided_row, kernel_of, mixed_row, table_product, whole_row
-from levelroads.doing.doings import is_staying, staying_rows
+from levelroads.base.tables import divided_row, echelon, kernel_of, mixed_row, table_product, whole_row
+from levelroads.doing.doings import is_staying
 from levelroads.errors import InvalidOperation, TooMany
-from levelroads.kind.kinds import Kind, kind_of
+from levelroads.kind.kinds import Kind
 from levelroads.rim.groups import genus
 from levelroads.rim.rims import led_fraction
 from levelroads.symbol.symbols import Space, check_space, check_sum, path_ends
@@ -29,12 +29,15 @@ def _lowered_images(above, space, times, rows):
     """To which rows of integers the symbols of a basis are lowered; those that no mix of some rows needs are zeros."""
     images = []
     for place, pair in enumerate(above.basis):
-        if any([row[place].top for row in rows]):
+        if not any([row[place].top for row in rows]):
+            images.append([0] * len(space))
+        elif times == 1:
+            # The path of a matrix is the symbol of its pair at each level.
+            images.append(space.row_of_pair(pair[0], pair[1]))
+        else:
             one, other = path_ends(pair)
             counts = space.path_counts(_multiple_of(one, times), _multiple_of(other, times))
             images.append(space.row_of_counts(counts))
-        else:
-            images.append([0] * len(space))
     return images
 
 
@@ -66,7 +69,7 @@ def new_rows(space):
     """The echelon of the rows of all new sums of a space."""
     check_space(space)
     _check_level(space.level)
-    rows = staying_rows(space)
+    rows, _ = space.staying_half()
     if not rows:
         return ()
     return table_product(kernel_of(_all_lowered(space, rows)), rows)
@@ -100,34 +103,42 @@ def _check_kind(kind):
     _check_level(kind.level)
 
 
-def _met_at_home(kind):
-    """A sum other than zero to which a sum of a kind is lowered at its home."""
-    # Lowering by 1 leads a kind to zero at all levels but the multiples of its home, of which the home is the least.
-    above = Space(kind.level)
-    for level in divisors(kind.level):
-        if genus(level):
-            space = Space(level)
-            images = _lowered_images(above, space, 1, kind.rows)
-            for row in kind.rows:
-                found = space.sum_of(_lowered_row(row, images, len(space)))
-                if not found.is_zero:
-                    return found
-    return None
+def _home(kind):
+    """The home of a kind."""
+    level = kind.level
+    homes = [below for below in divisors(level)
+             if len(divisors(level // below)) == kind.fold and _new_dimension(below) >= kind.degree]
+    # Often there is one such level alone. If not, none of them divides another one, and lowering by 1 leads a kind to
+    # zero at all levels but the multiples of its home.
+    for below in homes[:-1]:
+        if _rows_at(kind, Space(below)):
+            return below
+    return homes[-1]
+
+
+def _rows_at(kind, space):
+    """The echelon of the rows to which lowering by 1 leads the sums of a kind, for a level that divides its own."""
+    images = _lowered_images(kind.space, space, 1, kind.rows)
+    return echelon(tuple([_lowered_row(row, images, len(space)) for row in kind.rows]))
 
 
 def home_of(kind):
     """The home of a kind."""
     _check_kind(kind)
-    return _met_at_home(kind).level
+    return _home(kind)
 
 
 def copies_of(kind):
     """The number of the divisors of the level of a kind divided by its home."""
     _check_kind(kind)
-    return len(divisors(kind.level // _met_at_home(kind).level))
+    return kind.fold
 
 
 def home_kind(kind):
     """The kind of the home to which all lowerings lead a kind."""
     _check_kind(kind)
-    return kind_of(_met_at_home(kind))
+    home = _home(kind)
+    if home == kind.level:
+        return kind
+    space = Space(home)
+    return Kind(space, _rows_at(kind, space), kind.degree)

@@ -83,10 +83,11 @@ def rim_of(level, fraction):
     """The rim of a fraction."""
     check_level(level)
     check_fraction(fraction)
-    return _rim(level, fraction)
+    return told_rim(level, fraction)
 
 
-def _rim(level, fraction):
+def told_rim(level, fraction):
+    """The same for what surely are a level and a fraction."""
     p, q = fraction
     bottom = gcd(q, level)
     return _least_top(bottom, gcd(bottom, level // bottom), p * (q // bottom)), bottom
@@ -106,7 +107,7 @@ def _width(level, fraction):
 def are_same_rim(level, one, other):
     """Whether two fractions are in one class."""
     _check_both(level, one, other)
-    return _rim(level, one) == _rim(level, other)
+    return told_rim(level, one) == told_rim(level, other)
 
 
 def _check_both(level, one, other):

@@ -1,10 +1,10 @@
 """Rows of a level: what the doings have, one behind the other, at each place of their tables."""
 
 from levelroads.base.mixes import is_mix, lead_places
-from levelroads.base.numbers import check_bounded
+from levelroads.base.numbers import check_bounded, is_prime
 from levelroads.base.ratios import Ratio
-from levelroads.base.tables import echelon, table_product
-from levelroads.doing.doings import doing_images, staying_rows, table_on
+from levelroads.base.tables import echelon_of_whole, free_multiples, mixed_row
+from levelroads.doing.doings import doing_images, whole_table
 from levelroads.errors import InvalidOperation, InvalidRow, Refused
 from levelroads.pair.pairs import count_pairs
 from levelroads.symbol.symbols import check_space
@@ -24,22 +24,42 @@ def _is_begun(value):
     return all([isinstance(entry, Ratio) for entry in value])
 
 
-def _tables(space, size):
-    """The tables by which T_1, T_2 and so on lead the staying half of a space."""
-    rows = staying_rows(space)
-    unit = tuple([tuple([Ratio(1 if at == place else 0) for at in range(len(rows))]) for place in range(len(rows))])
-    tables = [unit]
+def _told_rows(space, size):
+    """The echelon of the entries from 1 to a size of all rows of the level of a space."""
+    _, told = space.staying_half()
+    _, rows, bottom = told
+    tables = {}
+    for prime in range(2, size + 1):
+        if is_prime(prime):
+            tables[prime] = whole_table(told, doing_images(space, prime, rows))
+    found = []
+    for place in range(len(rows)):
+        # Often the entries at the places of some first rows of the tables tell all rows of the level.
+        if len(found) < min(len(rows), size):
+            first = [1 if at == place else 0 for at in range(len(rows))]
+            found = free_multiples(found + _entries_with(first, space.level, tables, bottom, size))
+    return echelon_of_whole(found)
+
+
+def _entries_with(first, level, tables, bottom, size):
+    """The entries at all places of one row of the tables of T_1, T_2 and so on, all multiplied by one integer.
+
+    The row of T_1 is told, and the tables of prime numbers, which are integers that are divided by another one.
+    """
+    power = 2
+    while power <= size:
+        # No number has more prime factors than such a power: so nothing is left by the divisions below.
+        first = [bottom * entry for entry in first]
+        power = 2 * power
+    rows = [first]
     for number in range(2, size + 1):
         prime = _least_prime(number)
-        if prime == number:
-            tables.append(table_on(rows, doing_images(space, number, rows)))
-        else:
-            rest = number // prime
-            product = table_product(tables[prime - 1], tables[rest - 1])
-            if rest % prime == 0 and space.level % prime:
-                product = _less(product, prime, tables[rest // prime - 1])
-            tables.append(product)
-    return tables
+        rest = number // prime
+        row = [entry // bottom for entry in mixed_row(rows[rest - 1], tables[prime], len(first))]
+        if rest % prime == 0 and level % prime:
+            row = [entry - prime * less for entry, less in zip(row, rows[rest // prime - 1])]
+        rows.append(row)
+    return list(zip(*rows))
 
 
 def _least_prime(number):
@@ -47,25 +67,6 @@ def _least_prime(number):
     while number % prime:
         prime = prime + 1
     return prime
-
-
-def _less(table, times, other):
-    """A table less another one, which is multiplied by an integer."""
-    return tuple([tuple([one.minus(two.times(times)) for one, two in zip(row, less)])
-                  for row, less in zip(table, other)])
-
-
-def _told_rows(space, size):
-    """The echelon of the entries from 1 to a size of all rows of the level of a space."""
-    tables = _tables(space, size)
-    many = len(tables[0])
-    found = ()
-    for row in range(many):
-        # Often the entries at the places of one row of the tables tell all rows of the level.
-        if len(found) < many:
-            told = tuple([tuple([table[row][column] for table in tables]) for column in range(many)])
-            found = echelon(found + told)
-    return found
 
 
 def form_rows(space, size):

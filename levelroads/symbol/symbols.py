@@ -1,12 +1,13 @@
 """The space of a level: symbols, paths between fractions, and their sums."""
 
+from levelroads.base.mixes import whole_echelon
 from levelroads.base.numbers import check_level, is_integer
 from levelroads.base.ratios import Ratio, exact_ratio
-from levelroads.base.tables import divided_row, kernel_of, whole_row
+from levelroads.base.tables import divided_row, kernel_of_whole, whole_row
 from levelroads.errors import InvalidOperation, InvalidSum, InvalidTable
 from levelroads.pair.pairs import check_pair, least_pair, pair_of, pairs
 from levelroads.rim.groups import told_matrix
-from levelroads.rim.rims import check_fraction, led_fraction, rim_of, rims
+from levelroads.rim.rims import check_fraction, rims, told_rim
 from levelroads.symbol.flows import basis_and_images, pair_numbers
 
 
@@ -47,14 +48,18 @@ def _steps(fraction):
 def rims_of(level, pair):
     """The rims at which the symbol of a pair, as a path, begins and ends."""
     check_pair(level, pair)
+    return _rims_of(level, pair)
+
+
+def _rims_of(level, pair):
     start, end = path_ends(pair)
-    return rim_of(level, start), rim_of(level, end)
+    return told_rim(level, start), told_rim(level, end)
 
 
 def path_ends(pair):
     """The fractions between which the symbol of what surely is a pair is the path."""
-    matrix = told_matrix(pair)
-    return led_fraction(matrix, (0, 1)), led_fraction(matrix, (1, 0))
+    a, b, c, d = told_matrix(pair)
+    return (b, d) if d else (1, 0), (a, c) if c else (1, 0)
 
 
 def check_space(space):
@@ -100,12 +105,17 @@ class Space:
         # What the sums of the space and the doings need of it, too.
         self.pairs = pairs(level)
         self.numbers = pair_numbers(level, self.pairs)
-        places, self.images = basis_and_images(level, self.pairs, self.numbers)
+        places, images = basis_and_images(level, self.pairs, self.numbers)
+        # What tells no pair is left out.
+        self.images = images + ((),)
         self._basis = tuple([self.pairs[place] for place in places])
         self.rims = rims(level)
         self.ends = tuple([self._ends_of(pair) for pair in self._basis])
-        self._symbols = tuple([self.sum_of_counts(self.counts_of([pair])) for pair in self._basis])
-        self._zero = self.sum_of_counts(self.counts_of([]))
+        zeros = [Ratio(0)] * len(self._basis)
+        units = [zeros[:place] + [Ratio(1)] + zeros[place + 1:] for place in range(len(zeros))]
+        self._symbols = tuple([Sum(self, tuple(row)) for row in units])
+        self._zero = Sum(self, tuple(zeros))
+        self._staying = None
 
     @property
     def level(self):
@@ -124,7 +134,8 @@ class Space:
 
     def symbol(self, c, d):
         """The symbol of the pair that two integers tell."""
-        return self.sum_of_counts(self.counts_of([pair_of(self._level, c, d)]))
+        first, second = pair_of(self._level, c, d)
+        return Sum(self, divided_row(self.row_of_pair(first, second), 1))
 
     def path(self, one, other):
         """The path from one fraction to another one."""
@@ -140,7 +151,7 @@ class Space:
 
     def closed_rows(self):
         """The echelon of the rows of all closed sums."""
-        return kernel_of(tuple([divided_row(row, 1) for row in self.boundaries()]))
+        return kernel_of_whole(self.boundaries())
 
     def boundaries(self):
         """The list of the boundaries of the symbols of the basis: the multiples of all rims, as integers."""
@@ -150,6 +161,26 @@ class Space:
             row[start] = row[start] - 1
             row[end] = row[end] + 1
             table.append(row)
+        return table
+
+    def staying_half(self):
+        """The echelon of the rows of all sums that have no boundary and are not changed if they are turned.
+
+        It comes with what `whole_echelon` tells of it.
+        """
+        if self._staying is None:
+            # Each doing on these sums needs them.
+            rows = kernel_of_whole(self._changes())
+            self._staying = rows, whole_echelon(rows)
+        return self._staying
+
+    def _changes(self):
+        """The boundaries, and behind each one what is changed if the symbol is turned."""
+        table = []
+        for place, (boundary, (c, d)) in enumerate(zip(self.boundaries(), self._basis)):
+            change = self.row_of_pair(-c, d)
+            change[place] = change[place] - 1
+            table.append(boundary + change)
         return table
 
     def path_counts(self, one, other):
@@ -164,11 +195,15 @@ class Space:
             counts[index] = counts[index] + 1
         return counts
 
-    def row_of_counts(self, counts):
-        """The row, as integers, of the sum that has the symbols of the pairs so often.
+    def row_of_pair(self, c, d):
+        """The row, as integers, of the symbol of the pair that two integers surely tell."""
+        row = [0] * len(self._basis)
+        for place, sign in self.images[self.numbers[c % self._level * self._level + d % self._level]]:
+            row[place] = row[place] + sign
+        return row
 
-        A further count is left out: that of what tells no pair.
-        """
+    def row_of_counts(self, counts):
+        """The row, as integers, of the sum that has the symbols of the pairs so often."""
         row = [0] * len(self._basis)
         for many, image in zip(counts, self.images):
             if many:
@@ -181,7 +216,7 @@ class Space:
         return Sum(self, divided_row(self.row_of_counts(counts), 1))
 
     def _ends_of(self, pair):
-        start, end = rims_of(self._level, pair)
+        start, end = _rims_of(self._level, pair)
         return self.rims.index(start), self.rims.index(end)
 
     def __len__(self):
