@@ -156,8 +156,8 @@ class Traces(Case):
 
     def test_new_traces(self):
         """[9.7]"""
-        for level in list(range(1, 30)) + [32, 36, 45, 48, 60, 64, 72, 96, 98, 100]:
-            for number in proper(level, (1, 2, 3, 5, 7, 16, 77, 199)):
+        for level in range(1, 101):
+            for number in proper(level, (1, 2, 3, 5, 7, 9, 16, 25, 49, 77, 121, 199)):
                 found = new_trace(level, number)
                 self.same(found, sum(newness(level // below) * trace_of(below, number) for below in divisors(level)))
                 self.same(trace_of(level, number),

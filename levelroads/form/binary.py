@@ -203,18 +203,24 @@ def class_number(measure):
 def weighted_number(measure):
     """The sum of the weights of the reduced primitive forms of a measure."""
     check_bounded(measure, 1, MAX_MEASURE)
-    return _sum_of_weights(_primitive_forms(measure))
+    return Ratio(sixfold_number(measure), 6)
+
+
+def sixfold_number(measure):
+    """Six times the weighted number of what surely is an integer of at least 1."""
+    return _sixfold_sum(_primitive_forms(measure))
 
 
 def whole_number(measure):
     """The sum of the weights of all reduced forms of a measure."""
     check_bounded(measure, 1, MAX_MEASURE)
-    return _sum_of_weights(_forms(measure))
+    return Ratio(_sixfold_sum(_forms(measure)), 6)
 
 
-def _sum_of_weights(forms):
+def _sixfold_sum(forms):
+    """Six times the sum of the weights of some reduced forms."""
     # Twelve is a multiple of all numbers of matrices that lead a form to itself.
-    return Ratio(sum([12 // _count_keepers(form) for form in forms]), 6)
+    return sum([12 // _count_keepers(form) for form in forms])
 
 
 def count_shown(form, number):

@@ -3,11 +3,10 @@
 from math import gcd, isqrt
 
 from levelroads.base.numbers import check_bounded, check_level, check_proper
-from levelroads.base.numbers import count_units, divisor_sum, divisors, is_integer, prime_powers, roots_modulo
-from levelroads.base.ratios import Ratio, exact_ratio
+from levelroads.base.numbers import count_units, divisor_sum, divisors, is_integer, prime_powers
+from levelroads.base.ratios import exact_ratio
 from levelroads.errors import InvalidCount
-from levelroads.form.binary import weighted_number
-from levelroads.pair.pairs import count_pairs
+from levelroads.form.binary import sixfold_number
 
 MAX_TRACED = 200
 
@@ -25,13 +24,20 @@ def pairs_met(number):
 
 
 def _pairs_met(number):
-    most = isqrt(4 * number - 1)
+    positive = _pairs_from_zero(number)
+    negative = [(-t, f, measure) for t, f, measure in positive if t]
+    return tuple(sorted(negative + positive))
+
+
+def _pairs_from_zero(number):
+    """The pairs met whose integer t is at least 0."""
     found = []
-    for t in range(-most, most + 1):
-        for f in range(1, isqrt(4 * number - t * t) + 1):
-            if _is_met(number, t, f):
-                found.append((t, f, (4 * number - t * t) // (f * f)))
-    return tuple(found)
+    for t in range(isqrt(4 * number - 1) + 1):
+        left = 4 * number - t * t
+        for f in range(1, isqrt(left) + 1):
+            if left % (f * f) == 0 and left // (f * f) % 4 in (0, 3):
+                found.append((t, f, left // (f * f)))
+    return found
 
 
 def _is_met(number, t, f):
@@ -51,61 +57,110 @@ def times_of(level, number, t, f):
     return _times(level, number, t, f)
 
 
+# The times, the index and the crossings of a level are products over the primes that divide it, of what they are for
+# the power of this prime. So is the sum over the divisors that a new trace is, for each one: a tower has a prime, and
+# the pairs of its powers and of the integers by which what they tell is multiplied, before it is added up.
+
+
+def _towers(level):
+    """The towers of a level: the power that divides it alone."""
+    return [(prime, ((_power_of(prime, times), 1),)) for prime, times in prime_powers(level).items()]
+
+
+def _new_towers(level):
+    """The towers of the new traces of a level."""
+    found = []
+    for prime, times in prime_powers(level).items():
+        powers = [(_power_of(prime, times), 1), (_power_of(prime, times - 1), -2)]
+        if times > 1:
+            powers.append((_power_of(prime, times - 2), 1))
+        found.append((prime, tuple(powers)))
+    return found
+
+
+def _power_of(prime, times):
+    power = 1
+    for _ in range(times):
+        power = power * prime
+    return power
+
+
+def _over(towers, told):
+    """The product over all towers of the sums of what is told by a prime and a power of it."""
+    product = 1
+    for prime, powers in towers:
+        # Often the times are 0 for one prime: then those for all others need not be counted.
+        if product:
+            product = product * sum([many * told(prime, power) for power, many in powers])
+    return product
+
+
+def _index_at(prime, power):
+    return power + power // prime
+
+
+def _times_at(prime, power, number, t, f):
+    shared = gcd(power, f)
+    if shared == 1:
+        return len([x for x in range(power) if (x * (x - t) + number) % power == 0])
+    modulus = power * shared
+    solutions = len({x % power for x in range(modulus) if (x * (x - t) + number) % modulus == 0})
+    return solutions * (shared if shared < power else _index_at(prime, power))
+
+
+def _crossings_at(prime, power, difference):
+    many = 0
+    below = 1
+    while below <= power:
+        shared = gcd(below, power // below)
+        if difference % shared == 0:
+            many = many + count_units(shared)
+        below = below * prime
+    return many
+
+
 def _times(level, number, t, f):
-    shared = gcd(level, f)
-    roots = roots_modulo(level * shared, -t, number)
-    solutions = len({x % level for x in roots})
-    return count_pairs(level) // count_pairs(level // shared) * solutions
+    return _over(_towers(level), lambda prime, power: _times_at(prime, power, number, t, f))
+
+
+def _twelvefold_parts(towers, number):
+    """The four parts, multiplied by 12."""
+    is_square = isqrt(number) * isqrt(number) == number
+    first = _over(towers, _index_at) if is_square else 0
+    second = 0
+    for t, f, measure in _pairs_from_zero(number):
+        times = _over(towers, lambda prime, power: _times_at(prime, power, number, t, f))
+        if times:
+            # The pairs of t and -t are told the same.
+            second = second + (2 if t else 1) * times * sixfold_number(measure)
+    third = 0
+    for d in divisors(number):
+        other = number // d
+        third = third + min(d, other) * _over(towers, lambda prime, power: _crossings_at(prime, power, other - d))
+    return first, -second, -6 * third, 12 * divisor_sum(number) * _over(towers, lambda prime, power: 1)
 
 
 def trace_parts(level, number):
     """The tuple of the four parts of the trace of T_n, n being the number, on the staying half of a level."""
     _check_both(level, number)
-    return _parts(level, number)
-
-
-def _parts(level, number):
-    is_square = isqrt(number) * isqrt(number) == number
-    first = exact_ratio(count_pairs(level), 12) if is_square else Ratio(0)
-    second = Ratio(0)
-    for t, f, measure in _pairs_met(number):
-        second = second.plus(weighted_number(measure).times(_times(level, number, t, f)))
-    third = sum([min(d, number // d) * _crossings(level, number // d - d) for d in divisors(number)])
-    return first, second.over(-2), exact_ratio(-third, 2), Ratio(divisor_sum(number))
-
-
-def _crossings(level, difference):
-    many = 0
-    for c in divisors(level):
-        shared = gcd(c, level // c)
-        if difference % shared == 0:
-            many = many + count_units(shared)
-    return many
+    return tuple([exact_ratio(part, 12) for part in _twelvefold_parts(_towers(level), number)])
 
 
 def trace_of(level, number):
     """The trace of T_n, n being the number, on the staying half of a level."""
     _check_both(level, number)
-    return _trace(level, number)
-
-
-def _trace(level, number):
-    total = Ratio(0)
-    for part in _parts(level, number):
-        total = total.plus(part)
-    return total.top
+    return sum(_twelvefold_parts(_towers(level), number)) // 12
 
 
 def dimension_of(level):
     """The dimension of the staying half of a level, as the trace of T_1."""
-    check_level(level)
-    return _trace(level, 1)
+    return trace_of(level, 1)
 
 
 def new_trace(level, number):
     """The new trace of T_n, n being the number, at a level."""
     _check_both(level, number)
-    return sum([newness(level // below) * _trace(below, number) for below in divisors(level)])
+    return sum(_twelvefold_parts(_new_towers(level), number)) // 12
 
 
 def newness(quotient):
